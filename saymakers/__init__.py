@@ -1,0 +1,1 @@
+"""Saymakers: words of one's own and their rules."""

@@ -1,0 +1,67 @@
+"""Premises of places: when they hold, and what steps make of them."""
+
+from saymakers.errors import InvalidPremises
+from saymakers.kinds import is_number, is_sequence, lot_of, rows_of
+
+
+def formed_premise(value, places):
+    """The value as a premise in order with no greater place, or None."""
+    if not is_sequence(value) or len(value) != 2:
+        return None
+    for side in value:
+        if not is_sequence(side):
+            return None
+        if not all([is_number(place) and 1 <= place <= places for place in side]):
+            return None
+    return lot_of(value[0]), lot_of(value[1])
+
+
+def need_premises(premises, places):
+    """The premises, each in order, as they were told."""
+    if not is_sequence(premises):
+        raise InvalidPremises(-1)
+    formed = []
+    for at, value in enumerate(premises):
+        premise = formed_premise(value, places)
+        if premise is None:
+            raise InvalidPremises(at)
+        formed.append(premise)
+    return tuple(formed)
+
+
+def holds_in(premise, row):
+    """Whether some left place is 0 or some right one 1."""
+    left, right = premise
+    return any([row[place - 1] == 0 for place in left] + [row[place - 1] == 1 for place in right])
+
+
+def all_hold(premises, row):
+    """Whether all the premises hold in the row."""
+    return all([holds_in(premise, row) for premise in premises])
+
+
+def waking_rows(premises, places):
+    """The rows in which all the premises hold, ascending."""
+    return tuple([row for row in rows_of(places) if all_hold(premises, row)])
+
+
+def has_both(premise):
+    """Whether a place stands on both sides: then the premise always holds."""
+    return any([place in premise[1] for place in premise[0]])
+
+
+def is_within(premise, other):
+    """Whether all places of the one stand so in the other."""
+    return all([place in other[side] for side in (0, 1) for place in premise[side]])
+
+
+def can_step(one, other, place):
+    """Whether a step on the place can be made of the two."""
+    return place in one[1] and place in other[0]
+
+
+def stepped(one, other, place):
+    """What a step makes: the place goes from the one's right and the other's left only."""
+    left = [each for each in other[0] if each != place]
+    right = [each for each in one[1] if each != place]
+    return lot_of(list(one[0]) + left), lot_of(right + list(other[1]))

@@ -1,0 +1,163 @@
+"""Worlds: truths of closed lots of sayings that keep the rules of a book."""
+
+from saymakers.books import need_book, truths_told
+from saymakers.errors import InvalidIndex, InvalidSaying, InvalidSheet, InvalidSize, InvalidWorld, Refused
+from saymakers.forms import fits, formed_saying, formed_sheet, own_saying, parts_of, rank_of, text_of
+from saymakers.kinds import is_number_below, is_sequence
+
+_MOST_SAYINGS = 12
+_MOST_FOR_SHEETS = 7
+
+
+def _formed_world(value, lists):
+    """The value as an ascending tuple of (saying, truth), or None."""
+    if not is_sequence(value, lists):
+        return None
+    pairs = []
+    for pair in value:
+        if not is_sequence(pair, lists) or len(pair) != 2 or not is_number_below(pair[1], 2):
+            return None
+        saying = formed_saying(pair[0], lists)
+        if saying is None or (pairs and rank_of(pairs[-1][0]) >= rank_of(saying)):
+            return None
+        pairs.append((saying, pair[1]))
+    return tuple(pairs)
+
+
+def _let_truths(book, saying, truths):
+    """The truths that the rules let the saying have; the dict has those of its parts by their texts."""
+    if isinstance(saying, str):
+        return (0, 1)
+    told = truths_told(book, saying[0], tuple([truths[text_of(part)] for part in saying[1:]]))
+    if not told:
+        return (0, 1)
+    return told if len(told) == 1 else ()
+
+
+def _own_world(book, value, lists):
+    """(the value as a world of the book, its truths by texts), or None."""
+    world = _formed_world(value, lists)
+    places = dict(book.makers)
+    if world is None or not all([fits(saying, places) for saying, truth in world]):
+        return None
+    truths = {}
+    for saying, truth in world:
+        # Parts stand ahead of what they are parts of, as they have fewer names.
+        if not _parts_are_there(saying, truths) or truth not in _let_truths(book, saying, truths):
+            return None
+        truths[text_of(saying)] = truth
+    return world, truths
+
+
+def _parts_are_there(saying, truths):
+    """Whether the dict has a truth for each part right within the saying."""
+    return isinstance(saying, str) or all([text_of(part) in truths for part in saying[1:]])
+
+
+def is_world(book, value):
+    """Whether the value is a world of the book."""
+    return _own_world(need_book(book), value, False) is not None
+
+
+def next_truths(book, world, saying):
+    """The truths that one saying more may have with the world."""
+    found = _own_world(need_book(book), world, True)
+    if found is None:
+        raise InvalidWorld(-1)
+    whole = own_saying(saying, dict(book.makers))
+    if whole is None:
+        raise InvalidSaying(-1)
+    truths = found[1]
+    if text_of(whole) in truths or not _parts_are_there(whole, truths):
+        raise Refused(-1)
+    return _let_truths(book, whole, truths)
+
+
+def keeps_sheet(world, sheet):
+    """Whether some left saying of the sheet is 0 in the world or some right one 1."""
+    pairs = _formed_world(world, True)
+    if pairs is None:
+        raise InvalidWorld(-1)
+    sides = formed_sheet(sheet)
+    if sides is None:
+        raise InvalidSheet(-1)
+    truths = {text_of(saying): truth for saying, truth in pairs}
+    if not all([text_of(saying) in truths for saying in sides[0] + sides[1]]):
+        raise Refused(-1)
+    return _is_kept(truths, sides)
+
+
+def _is_kept(truths, sheet):
+    """Whether the truths, by texts, keep the sheet."""
+    left, right = [[truths[text_of(saying)] for saying in side] for side in sheet]
+    return 0 in left or 1 in right
+
+
+def _need_lot(book, sayings, most):
+    """The sayings and all their parts, not more than so many."""
+    places = dict(need_book(book).makers)
+    if not is_sequence(sayings):
+        raise InvalidSaying(-1)
+    formed = []
+    for at, value in enumerate(sayings):
+        saying = own_saying(value, places)
+        if saying is None:
+            raise InvalidSaying(at)
+        formed.append(saying)
+    lot = parts_of(formed)
+    if len(lot) > most:
+        raise InvalidSize("sayings")
+    return lot
+
+
+def _worlds_of(book, lot):
+    """The truths of all worlds of a closed lot, in its order, ascending."""
+    texts = [text_of(saying) for saying in lot]
+    worlds = [()]
+    for at, saying in enumerate(lot):
+        longer = []
+        for world in worlds:
+            truths = dict(zip(texts[:at], world))
+            longer.extend([world + (truth,) for truth in _let_truths(book, saying, truths)])
+        worlds = longer
+    return worlds
+
+
+def world_count(book, sayings):
+    """How many worlds the sayings and all their parts have."""
+    return len(_worlds_of(book, _need_lot(book, sayings, _MOST_SAYINGS)))
+
+
+def nth_world(book, sayings, index):
+    """The world of this number, put by truths in the order of the sayings."""
+    lot = _need_lot(book, sayings, _MOST_SAYINGS)
+    worlds = _worlds_of(book, lot)
+    if not is_number_below(index, len(worlds)):
+        raise InvalidIndex(-1)
+    return tuple(zip(lot, worlds[index]))
+
+
+def kept_count(book, sayings):
+    """How many sheets over the closed lot, no saying on both sides, all its worlds keep."""
+    lot = _need_lot(book, sayings, _MOST_FOR_SHEETS)
+    worlds = [_bits_of(world) for world in _worlds_of(book, lot)]
+    many = 0
+    for left, right in _all_sides(len(lot)):
+        if all([left & ~world or right & world for world in worlds]):
+            many += 1
+    return many
+
+
+def _bits_of(world):
+    """The truths of a world as the bits of a number."""
+    return sum([truth << at for at, truth in enumerate(world)])
+
+
+def _all_sides(many):
+    """All ways to put so many sayings left, right or on no side, as the bits of two numbers."""
+    ways = [(0, 0)]
+    for at in range(many):
+        bit = 1 << at
+        more = [(left | bit, right) for left, right in ways] + [(left, right | bit) for left, right in ways]
+        ways = ways + more
+    return ways

@@ -1,0 +1,66 @@
+"""The document's examples, as far as their modules are there."""
+
+import doctest
+import unittest
+
+EXAMPLES = {
+    "chapter 1": """
+    >>> from saymakers.books import read_book
+    >>> from saymakers.court import court_paper
+    >>> court_paper(read_book("maker tonk 2\\nright tonk: | 1\\nleft tonk: 2 |"))
+    ('nonsense', 1, 0, (1, 0))
+    """,
+    "chapter 4": """
+    >>> from saymakers.books import read_book
+    >>> from saymakers.court import bad_pairs, even_truths, is_calm, steps_hold
+    >>> tonk = read_book("maker tonk 2\\nright tonk: | 1\\nleft tonk: 2 |")
+    >>> bad_pairs(tonk), even_truths(tonk)
+    (((1, 0, ((1, 0),)),), (0, 1))
+    >>> is_calm(read_book("maker and 2\\nright and: | 1; | 2\\nleft and: 1 2 |"))
+    True
+    >>> steps_hold([((), (1,)), ((), (2,)), ((1, 2), ())], ((0, 2, 1), (1, 3, 2)))
+    True
+    """,
+    "chapter 5": """
+    >>> from saymakers.books import read_book
+    >>> from saymakers.detours import without_joins
+    >>> from saymakers.proofs import proof_end, proof_height
+    >>> book = read_book("maker no 1\\nright no: 1 |\\nleft no: | 1")
+    >>> one = ("rule", 1, ("q",), (("start", "q"),))
+    >>> other = ("rule", 0, ("q",), (("start", "q"),))
+    >>> proof_end(book, ("join", ("no", "q"), one, other))
+    (('q',), ('q',))
+    >>> proof_height(book, without_joins(book, ("join", ("no", "q"), one, other)))
+    0
+    """,
+    "chapter 6": """
+    >>> from saymakers.books import read_book
+    >>> from saymakers.worlds import world_count
+    >>> book = read_book("maker and 2\\nright and: | 1; | 2\\nleft and: 1 2 |\\nmaker may 1\\nright may: | 1")
+    >>> world_count(book, [("may", "p")])
+    3
+    """,
+    "chapter 11": """
+    >>> from saymakers.books import Book, book_text
+    >>> rules = [("tonk", "right", [((), (1,)), ((1,), (2,))]), ("tonk", "left", [((2,), ())])]
+    >>> print(book_text(Book([("tonk", 2)], rules)))
+    maker tonk 2
+    left tonk: 2 |
+    right tonk: | 1; 1 | 2
+    """,
+}
+
+
+class ExamplesTest(unittest.TestCase):
+    def test_examples(self):
+        parser, runner = doctest.DocTestParser(), doctest.DocTestRunner(verbose=False)
+        for name, text in EXAMPLES.items():
+            with self.subTest(name):
+                failed, tried = runner.run(parser.get_doctest(text, {}, name, None, 0), out=lambda told: None)
+                self.assertEqual(failed, 0)
+                self.assertGreater(tried, 0)
+            runner = doctest.DocTestRunner(verbose=False)
+
+
+if __name__ == "__main__":
+    unittest.main()
