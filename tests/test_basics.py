@@ -1,0 +1,196 @@
+"""[1] to [3]: equal calls give equal results, arguments stay as they are, objects are not iterable."""
+
+import copy
+import importlib
+import inspect
+import itertools
+import unittest
+
+from saymakers.books import Book
+from saymakers.signs import Signed, plain_signed
+from tests.tools import AND, EMPTY, LOGIC, MAY, NO, TONK, is_all_tuples, is_same, listed
+
+WHOLE = ("and", "p", ("and", "q", "r"))
+SHEET, OTHER = (("q", "p", "q"), (WHOLE,)), ((WHOLE, "p"), ())
+FILLING = (("p", ("and", "p", "q")), ("q", "p"))
+PREMISES = (((), (1,)), ((1,), (2,)), ((2, 1, 2), ()), ((), (1,)))
+STEPS = ((0, 1, 1), (0, 2, 1), (4, 5, 2))
+P, Q = ("start", "p"), ("start", "q")
+RULE = ("rule", 1, ("p", "q"), (P, Q))
+JOIN = ("join", ("and", "p", "q"), RULE, ("rule", 0, ("p", "q"), (P,)))
+FACTS = (SHEET, ((), ("p",)))
+SIGNED = plain_signed(TONK)
+SIGN_RULES = (("m", (1, 0), (((0, 1), (2, 1)), ())), ("m", (2,), ()), ("m", (2, 2), ()))
+ROW_OF_P = ((("p",), ("p",)), "start", "p", ())
+
+# (module, name, arguments, the places of papers: there no lists stand)
+CALLS = (
+    ("sayings", "saying_depth", (WHOLE,), ()), ("sayings", "saying_text", (WHOLE,), ()),
+    ("sayings", "saying_rank", (WHOLE,), ()), ("sayings", "saying_parts", (WHOLE,), ()),
+    ("sayings", "closed_lot", ((WHOLE, "s", "p"),), ()), ("sayings", "saying_letters", (WHOLE,), ()),
+    ("sayings", "fill_saying", (WHOLE, FILLING), ()), ("sayings", "put_beside", (SHEET, OTHER), ()),
+    ("sayings", "lies_within", (SHEET, OTHER), ()), ("sayings", "is_start", (SHEET,), ()),
+    ("sayings", "sheet_parts", (SHEET,), ()), ("sayings", "sheet_text", (SHEET,), ()),
+    ("sayings", "fill_sheet", (SHEET, FILLING), ()), ("sayings", "read_saying", ("and(p, no(q))",), ()),
+    ("sayings", "read_sheet", ("q, p | and(p, q)",), ()),
+    ("books", "all_rows", (3,), ()), ("books", "premise_holds", (((2, 1), (3,)), (1, 1, 0)), ()),
+    ("books", "Book", (LOGIC.makers[::-1], LOGIC.rules[::-1]), ()), ("books", "rule_awake", (AND, AND.rules[1], (1, 0)), ()),
+    ("books", "awake_rows", (AND, 1), ()), ("books", "told_truths", (AND, "and", (1, 1)), ()),
+    ("books", "maker_table", (MAY, "may"), ()), ("books", "rule_saying", (AND, 1, ("p", WHOLE)), ()),
+    ("books", "rule_premises", (AND, 1, ("p", WHOLE[2]), SHEET), ()),
+    ("books", "without_makers", (LOGIC, ("and", "no")), ()), ("books", "put_rules", (TONK, TONK.rules), ()),
+    ("books", "struck_rules", (LOGIC, (2, 0, 2)), ()), ("books", "rule_text", (AND, AND.rules[1]), ()),
+    ("books", "book_text", (LOGIC,), ()), ("books", "read_book", ("maker m 1\nleft m: 1 |",), ()),
+    ("court", "bad_pairs", (TONK,), ()), ("court", "is_calm", (LOGIC,), ()), ("court", "need_calm", (LOGIC,), ()),
+    ("court", "clash_steps", (PREMISES,), ()),
+    ("court", "steps_hold", (PREMISES, STEPS), (1,)), ("court", "nonsense_proof", (TONK, "p", ("tonk", "p", "q")), ()),
+    ("court", "even_truths", (NO,), ()), ("court", "court_paper", (LOGIC,), ()),
+    ("court", "court_holds", (TONK, ("nonsense", 1, 0, (1, 0))), (1,)),
+    ("leads", "prime_premises", (2, PREMISES), ()), ("leads", "rows_premises", (2, ((1, 0), (0, 1), (1, 0))), ()),
+    ("leads", "lead_steps", (2, PREMISES[:2], ((), (2,))), ()),
+    ("leads", "leads_hold", (2, PREMISES[:2], ((), (2,)), ((0, 1, 1),)), (3,)), ("leads", "prime_book", (LOGIC,), ()),
+    ("proofs", "need_proof", (AND, ("join", "p", ("told", 1), P), FACTS), (1,)),
+    ("proofs", "proof_end", (AND, ("join", "p", ("told", 1), RULE), FACTS), (1,)),
+    ("proofs", "proof_holds", (AND, (("p",), ("p",)), P, FACTS), (2,)),
+    ("proofs", "joined_sayings", (AND, JOIN), (1,)), ("proofs", "proof_height", (AND, JOIN), (1,)),
+    ("proofs", "proof_rows", (AND, JOIN), (1,)), ("proofs", "row_proof", (AND, (ROW_OF_P, ROW_OF_P)), (1,)),
+    ("proofs", "filled_proof", (AND, JOIN, FILLING), (1,)), ("proofs", "cut_short", (AND, RULE), (1,)),
+    ("signs", "Signed", (3, (("n", 2), ("m", 1)), SIGN_RULES), ()), ("signs", "plain_signed", (LOGIC,), ()),
+    ("signs", "awake_signed", (SIGNED, "tonk", (1, 0)), ()), ("signs", "signed_table", (SIGNED, "tonk"), ()),
+    ("signs", "signed_court", (SIGNED,), ()), ("signs", "odds_hold", (SIGNED, ("odds", "tonk", (1, 0), (0, 1))), (1,)),
+    ("signs", "signed_nonsense", (SIGNED,), ()),
+    ("worlds", "is_world", (MAY, (("p", 0), (("may", "p"), 1))), (1,)),
+    ("worlds", "next_truths", (MAY, (("p", 1), (("may", "p"), 1)), ("may", ("may", "p"))), ()),
+    ("worlds", "keeps_sheet", ((("p", 1), ("q", 0)), (("q", "p", "p"), ())), ()),
+    ("worlds", "world_count", (MAY, ("q", ("may", "p"))), ()), ("worlds", "nth_world", (MAY, ("q", ("may", "p")), 2), ()),
+    ("worlds", "kept_count", (MAY, ("q", ("may", "p"))), ()),
+    ("detours", "without_joins", (AND, JOIN), (1,)), ("detours", "join_out", (AND, JOIN), (1,)),
+)
+
+INTERFACE = {
+    "errors": "SayError InvalidText InvalidSaying InvalidSheet InvalidFilling InvalidMakers InvalidRules InvalidBook "
+              "InvalidRow InvalidPremises InvalidProof InvalidFacts InvalidLot InvalidWorld InvalidSigned InvalidIndex "
+              "Refused InvalidSize NoMaker NoRule NotCalm InvalidCommand",
+    "sayings": "saying_depth saying_text saying_rank saying_parts closed_lot saying_letters fill_saying put_beside "
+               "lies_within is_start sheet_parts sheet_text fill_sheet read_saying read_sheet",
+    "books": "all_rows premise_holds Book rule_awake awake_rows told_truths maker_table rule_saying rule_premises "
+             "without_makers put_rules struck_rules rule_text book_text read_book",
+    "court": "bad_pairs is_calm need_calm clash_steps steps_hold nonsense_proof even_truths court_paper court_holds",
+    "leads": "prime_premises rows_premises lead_steps leads_hold prime_book",
+    "proofs": "need_proof proof_end proof_holds joined_sayings proof_height proof_rows row_proof filled_proof cut_short",
+    "signs": "Signed plain_signed awake_signed signed_table signed_court odds_hold signed_nonsense",
+    "worlds": "is_world next_truths keeps_sheet world_count nth_world kept_count",
+    "detours": "without_joins join_out",
+}
+PARAMETERS = {
+    "saying_depth": "saying", "saying_text": "saying", "saying_rank": "saying", "saying_parts": "saying",
+    "closed_lot": "sayings", "saying_letters": "saying", "fill_saying": "saying filling", "put_beside": "sheet other",
+    "lies_within": "sheet other", "is_start": "sheet", "sheet_parts": "sheet", "sheet_text": "sheet",
+    "fill_sheet": "sheet filling", "read_saying": "text", "read_sheet": "text", "all_rows": "places",
+    "premise_holds": "premise row", "Book": "makers rules", "rule_awake": "book rule row", "awake_rows": "book number",
+    "told_truths": "book name row", "maker_table": "book name", "rule_saying": "book number sayings",
+    "rule_premises": "book number sayings sheet", "without_makers": "book names", "put_rules": "book rules",
+    "struck_rules": "book numbers", "rule_text": "book rule", "book_text": "book", "read_book": "text",
+    "bad_pairs": "book", "is_calm": "book", "need_calm": "book", "clash_steps": "sheets", "steps_hold": "sheets value",
+    "nonsense_proof": "book one other", "even_truths": "book", "court_paper": "book", "court_holds": "book value",
+    "prime_premises": "places premises", "rows_premises": "places rows", "lead_steps": "places premises goal",
+    "leads_hold": "places premises goal value", "prime_book": "book", "need_proof": "book value facts",
+    "proof_end": "book proof facts", "proof_holds": "book sheet value facts", "joined_sayings": "book proof",
+    "proof_height": "book proof", "proof_rows": "book proof", "row_proof": "book rows",
+    "filled_proof": "book proof filling", "cut_short": "book proof", "Signed": "count makers rules",
+    "plain_signed": "book", "awake_signed": "signed name row", "signed_table": "signed name", "signed_court": "signed",
+    "odds_hold": "signed value", "signed_nonsense": "signed", "is_world": "book value",
+    "next_truths": "book world saying", "keeps_sheet": "world sheet", "world_count": "book sayings",
+    "nth_world": "book sayings index", "kept_count": "book sayings", "without_joins": "book proof",
+    "join_out": "book proof",
+}
+
+
+def called(module, name):
+    """The function or class of the interface."""
+    return getattr(importlib.import_module("saymakers." + module), name)
+
+
+class BasicsTest(unittest.TestCase):
+    def variants(self, call, args, papers):
+        """The call's results, its arguments handed over in all ways."""
+        names = list(inspect.signature(call).parameters)[:len(args)]
+        for turned in (args, tuple(arg if at in papers else listed(arg) for at, arg in enumerate(args))):
+            before = copy.deepcopy(turned)
+            yield call(*turned)
+            yield call(**dict(zip(names, turned)))
+            yield call(*turned[:1], **dict(list(zip(names, turned))[1:]))
+            self.assertTrue(is_same(turned, before) or turned == before)
+
+    def test_every_name_is_called_here(self):
+        for module, names in INTERFACE.items():
+            if module != "errors":
+                self.assertEqual({name for where, name, args, papers in CALLS if where == module}, set(names.split()))
+
+    def test_equal_calls_give_equal_results(self):
+        first = [list(self.variants(called(module, name), args, papers)) for module, name, args, papers in CALLS]
+        again = [list(self.variants(called(module, name), args, papers)) for module, name, args, papers in CALLS[::-1]]
+        for results, more, (module, name, args, papers) in zip(first, again[::-1], CALLS):
+            for one, other in itertools.pairwise(results + more):
+                self.assertTrue(is_same(one, other), name)
+
+    def test_sequences_are_tuples_also_within(self):
+        for module, name, args, papers in CALLS:
+            result = called(module, name)(*args)
+            if isinstance(result, Book):
+                self.assertTrue(is_all_tuples((result.makers, result.rules)), name)
+            elif isinstance(result, Signed):
+                self.assertTrue(is_all_tuples((result.makers, result.rules)), name)
+            else:
+                self.assertTrue(is_all_tuples(result), name)
+                self.assertTrue(isinstance(result, (tuple, str, bool, int, type(None))), name)
+
+    def test_later_changes_have_no_effect(self):
+        makers, rules = listed(LOGIC.makers), listed(LOGIC.rules)
+        book = Book(makers, rules)
+        places, sign_rules = [["m", 1]], listed(SIGN_RULES)
+        signed = Signed(3, places, sign_rules)
+        kept = (signed.makers, signed.rules)
+        makers[0][0] = "odd"
+        rules[0][2][0][0].append(9)
+        rules.clear()
+        places[0][1] = 7
+        sign_rules[0][1].append(2)
+        sign_rules[0][2][0][0][0] = 5
+        sign_rules.pop()
+        self.assertEqual((book.makers, book.rules), (LOGIC.makers, LOGIC.rules))
+        self.assertEqual((signed.makers, signed.rules), kept)
+
+    def test_objects_are_not_iterable(self):
+        for thing in (AND, EMPTY, SIGNED):
+            for call in (iter, list, tuple, len, sorted):
+                with self.assertRaises(TypeError):
+                    call(thing)
+            with self.assertRaises(TypeError):
+                0 in thing
+
+    def test_whether_is_a_bool(self):
+        for module, name, args, papers in CALLS:
+            if name.startswith(("is_", "keeps_", "lies_")) or name.endswith(("_hold", "_holds", "_awake")):
+                self.assertIn(called(module, name)(*args), (True, False))
+                self.assertIs(type(called(module, name)(*args)), bool, name)
+
+    def test_names_are_defined_where_they_are_listed(self):
+        for module, names in INTERFACE.items():
+            for name in names.split():
+                self.assertEqual(called(module, name).__module__, "saymakers." + module)
+        for thing, methods in ((Book, ("maker_places", "rules_of", "__eq__")), (Signed, ("__eq__",))):
+            for method in methods:
+                self.assertIn(method, vars(thing))
+
+    def test_parameters_and_defaults(self):
+        for module, name, args, papers in CALLS:
+            parameters = inspect.signature(called(module, name)).parameters
+            self.assertEqual(list(parameters), PARAMETERS[name].split(), name)
+            for parameter in parameters.values():
+                right = () if parameter.name == "facts" else inspect.Parameter.empty
+                self.assertEqual(parameter.default, right)
+
+
+if __name__ == "__main__":
+    unittest.main()
