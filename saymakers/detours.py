@@ -105,11 +105,11 @@ def _join_end(bit, one, other):
     return one.left | (other.left & ~bit), (one.right & ~bit) | other.right
 
 
-def _joinless_parts(bench, most):
-    """For each part on the bench below the number a proof without joins, with an end within its own."""
+def _joinless_parts(bench, parts):
+    """For each of the parts, all there are so far, a proof without joins, with an end within its own."""
     remover = JoinRemover(bench)
     made = []
-    for part in bench.parts[:most]:
+    for part in parts:
         kids = tuple([made[kid.number] for kid in part.kids])
         if part.word == "join":
             made.append(remover.joined(bench.number_of(part.what), kids[0], kids[1]))
@@ -123,7 +123,7 @@ def _joinless_parts(bench, most):
 def _joinless_proof(reader, part):
     """A proof without joins of the part's end."""
     bench = reader.bench
-    found = _joinless_parts(bench, len(bench.parts))[part.number]
+    found = _joinless_parts(bench, list(bench.parts))[part.number]
     short = shortened(bench, found, part.left, part.right, {})
     return bench.proof_with_end(short, part.left, part.right)
 

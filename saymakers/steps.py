@@ -24,7 +24,8 @@ def found_steps(told, goal):
     while queue:
         at = queue.pop(0)
         done.append(at)
-        for step in _steps_with(made, done, at):
+        steps = _steps_with(made, done, at)
+        for step in steps:
             premise = stepped(made[step[0]], made[step[1]], step[2])
             if premise in seen or has_both(premise):
                 continue
