@@ -75,11 +75,11 @@ class JoinRemover:
         if one.own[1] != bit:
             kids = [kid if premise[1] & bit else self._done(number, kid, other)
                     for kid, premise in zip(one.kids, one.premises)]
-            part = self.bench.like_part(one, tuple(kids))
+            part = self.bench.rule_like(one, tuple(kids))
         elif other.own[0] != bit:
             kids = [kid if premise[0] & bit else self._done(number, one, kid)
                     for kid, premise in zip(other.kids, other.premises)]
-            part = self.bench.like_part(other, tuple(kids))
+            part = self.bench.rule_like(other, tuple(kids))
         else:
             part = self._met(number, one, other)
         left, right = _join_end(bit, one, other)
@@ -116,7 +116,7 @@ def _joinless_parts(bench, parts):
         elif part.word == "thin":
             made.append(kids[0])
         else:
-            made.append(bench.like_part(part, kids))
+            made.append(bench.rule_like(part, kids) if part.word == "rule" else part)
     return made
 
 

@@ -131,13 +131,9 @@ class Bench:
             bits = bits | (1 << numbers[place - 1])
         return bits
 
-    def like_part(self, part, kids):
-        """The part with other kids in place of its own."""
-        if part.word == "thin":
-            return self.thin_part(part.what, kids[0])
-        if part.word == "join":
-            return self.join_part(part.what, kids[0], kids[1])
-        return self.rule_part(part.what[0], part.what[1], kids) if part.word == "rule" else part
+    def rule_like(self, part, kids):
+        """The rule of the part with other kids."""
+        return self.rule_part(part.what[0], part.what[1], kids)
 
     def proof_of(self, part):
         """The part as a nested tuple; what stands in it twice is made once."""

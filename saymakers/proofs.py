@@ -77,12 +77,10 @@ def _row_part(bench, row, parts):
     if not isinstance(row, tuple) or len(row) != 4 or not isinstance(row[3], tuple):
         return None
     sheet, word, what, numbers = row
-    places = dict(bench.book.makers)
-    if exact_own_sheet(sheet, places) is None:
-        return None
     if not all([is_number_below(number, len(parts)) for number in numbers]):
         return None
-    part = _made_part(bench, places, word, what, tuple([parts[number] for number in numbers]))
+    kids = tuple([parts[number] for number in numbers])
+    part = _made_part(bench, dict(bench.book.makers), word, what, kids)
     if part is None or part.deep > MOST_PARTS_DEEP or bench.sheet_of(part.left, part.right) != sheet:
         return None
     return part

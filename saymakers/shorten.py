@@ -27,7 +27,7 @@ def _worked(bench, part, left, right, kept):
         if lies_in(short.left, short.right, left, right):
             return short
         kids.append(short)
-    return bench.rule_part(part.what[0], part.what[1], tuple(kids))
+    return bench.rule_like(part, tuple(kids))
 
 
 def lies_in(left, right, great_left, great_right):

@@ -65,7 +65,8 @@ class BookTest(Wrong, unittest.TestCase):
                           ([("m", "left", [((), (), ())])], 0), ([("m", "left", [((), ("1",))])], 0),
                           ([("m", 0, [])], 0), ([(["m"], "left", [])], 0), ([("m", "left", [], [])], 0),
                           ([("m", "left", (1, 2))], 0), ([good] * 61, 60), ([good] * 59 + [5, good, good], 59),
-                          ([good] * 60 + [5], 60), ([("m", ["left"], [])], 0), ([("m", "left", [EMPTY])], 0)):
+                          ([good] * 60 + [5], 60), ([("m", ["left"], [])], 0), ([("m", "left", [EMPTY])], 0),
+                          ([("m", "left", [(1, 2)])], 0), ([("m", "left", [((), "")])], 0)):
             self.wrong(InvalidRules, {"at": at}, Book, [("m", 2)], rules)
         self.assertEqual(len(Book([("m", 2)], [good] * 60).rules), 1)
         self.assertEqual(len(Book([("m", 3)], unlike_rules(60)).rules), 60)
@@ -115,7 +116,7 @@ class BookTest(Wrong, unittest.TestCase):
         for line in ("maker m", "maker m 2 2", "maker n 4", "maker n -1", "maker n 02", "maker N 2", "maker abcdefghi 1",
                      "maker m 2", "maker m 1", "n", "left", "left m", "left m: ;", "left m: | 1;", "left m: 1", ":",
                      "left m: 12 |", "left m: 0 |", "left m: 4 |", "left m: 1 | 2 | 1", "left m: | 1: | 2", "m left: |",
-                     "up m: |", "left m m: |", "left: |", "leftm: |", "left m: a |", "left m: 1, 2 |", "maker n:1",
+                     "up m: |", "up n 2", "Maker n 2", "makers n 2", "left m m: |", "left: |", "leftm: |", "left m: a |", "left m: 1, 2 |", "maker n:1",
                      "left m: |\t", "left m: \u0661 |", "maker n \u0661", "left m: | 1 ; ; | 2", "left M: |", "\r"):
             self.wrong(InvalidText, {"at": 1}, read_book, good + line)
             self.wrong(InvalidText, {"at": 2}, read_book, "left n:\n" + good + line + "\nup")
@@ -190,7 +191,8 @@ class RowsTest(Wrong, unittest.TestCase):
         self.assertIs(premise_holds(([2, 1, 2], []), [1, 0]), True)
         for row in (None, 5, "01", (2,), (True,), [0, None], [[0]], EMPTY, (-1,)):
             self.wrong(InvalidRow, {"at": -1}, premise_holds, None, row)
-        for premise in (None, ((),), ((), (3,)), ((0,), ()), ((), (True,)), ("1", ()), ((), (), ()), EMPTY, ([[1]], [])):
+        for premise in (None, ((),), ((), (3,)), ((0,), ()), ((), (True,)), ("1", ()), ((), (), ()), EMPTY, ([[1]], []),
+                        (1, 2), ("", ""), (None, ()), ((), ""), ((), 2), (EMPTY, ())):
             self.wrong(InvalidPremises, {"at": -1}, premise_holds, premise, (0, 1))
         self.wrong(InvalidPremises, {"at": -1}, premise_holds, ((), (1,)), ())
 
@@ -236,7 +238,8 @@ class RowsTest(Wrong, unittest.TestCase):
         self.assertEqual(rule_saying(LOGIC, LOGIC.rules_of("top", "right")[0], ()), ("top",))
         for sayings in (None, "pq", ["p"], ("p", "q", "r"), 5, EMPTY):
             self.wrong(InvalidSaying, {"at": -1}, rule_saying, AND, 0, sayings)
-        for value in NO_SAYINGS + (("or", "p", "q"), ("and", "p"), ("and", "p", ("no", "p")), ("and",)):
+        for value in NO_SAYINGS + (("or", "p", "q"), ("and", "p"), ("and", "p", ("no", "p")), ("and",),
+                                  ("and", ("no", "p"), "p")):
             self.wrong(InvalidSaying, {"at": 1}, rule_saying, AND, 0, ("p", value))
             self.wrong(InvalidSaying, {"at": 0}, rule_saying, AND, 0, (value, value))
             self.wrong(InvalidSaying, {"at": 1}, rule_premises, AND, 0, ("p", value), None)

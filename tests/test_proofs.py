@@ -107,7 +107,7 @@ class EndsTest(Wrong, unittest.TestCase):
                 (("rule", 2, ("p", "q"), (P,)), 0), (("rule", -1, ("p", "q"), (P,)), 0),
                 (("rule", False, ("p", "q"), (P,)), 0), (("rule", "0", ("p", "q"), (P,)), 0),
                 (("rule", 0, ("p",), (P,)), 0), (("rule", 0, ("p", "q", "r"), (P,)), 0),
-                (("rule", 0, ["p", "q"], (P,)), 0), (("rule", 0, ("p", "Q"), (P,)), 0), (("rule", 0, "pq", (P,)), 0),
+                (("rule", 0, (["and", "p", "q"], "q"), (P,)), 0), (("rule", 0, ["p", "q"], (P,)), 0), (("rule", 0, ("p", "Q"), (P,)), 0), (("rule", 0, "pq", (P,)), 0),
                 (("rule", 0, ("p", "q"), ()), 0), (("rule", 0, ("p", "q"), (P, P)), 0),
                 (("rule", 0, ("p", "q"), [P]), 0), (("rule", 0, ("p", "q"), P), 0), (("rule", 0, ("p", "q")), 0),
                 (("rule", 0, ("p", ("or", "p", "q")), (P,)), 0), (("rule", 0, ("p", "q"), (("told", 0),)), 1),
@@ -249,7 +249,10 @@ class RowsTest(Wrong, unittest.TestCase):
                     ((("p",), ("p",)), "join", "p", (0,)), ((("p",), ("p",)), "told", 0, ()),
                     ((("p",), ("p",)), "odd", "p", ()), ((("p",), ("p",)), "thin", ((), ()), (-1,)),
                     ((("p",), ("p",)), "rule", (0, ("p", "q")), ()), ((("p",), ("p",)), "rule", 0, (0,)),
-                    ((("p",), ("p",)), "rule", (0, ("p",)), (0,)), (["p"], "start", "p", ()), (None,) * 4):
+                    ((("p",), ("p",)), "rule", (0, ("p",)), (0,)), (["p"], "start", "p", ()), (None,) * 4,
+                    (((("and", "p", "q"),), (("and", "p", "q"),)), "start", ["and", "p", "q"], ()),
+                    ((["p"], ["p"]), "start", "p", ()), ((("p",), ("p",)), "join", ["and", "p", "q"], (0, 0)),
+                    ((("p", "q"), ("p", "q")), "join", "r", (0,)), ((("p",), ("p",)), "start", "P", ())):
             self.wrong(Refused, {"at": 5}, row_proof, AND, rows + (row,))
         again = rows + (((("p",), ("p",)), "join", "p", (0, 0)),)
         self.assertEqual(row_proof(AND, again), ("join", "p", P, P))
@@ -302,6 +305,9 @@ class FillingTest(Wrong, unittest.TestCase):
             if proof != P:
                 self.wrong(InvalidSaying, {"at": -1}, filled_proof, NO, proof, [("p", ("no", great))])
         self.assertEqual(filled_proof(NO, P, [("p", DEEP)]), ("start", DEEP))
+        for sheet in (((("no", "p"),), ()), ((), (("no", "p"),)), (("q", ("no", "p")), ("q",))):
+            self.wrong(InvalidSaying, {"at": -1}, filled_proof, NO, ("thin", sheet, Q), [("p", DEEP)])
+        self.wrong(InvalidSaying, {"at": -1}, filled_proof, NO, ("rule", 0, ("p",), (Q,)), [("p", DEEP)])
 
 
 class CutShortTest(Wrong, unittest.TestCase):

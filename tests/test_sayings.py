@@ -109,6 +109,9 @@ class SayingsTest(Wrong, unittest.TestCase):
         self.assertEqual(read_saying(saying_text(DEEP)), DEEP)
         self.assertEqual(read_saying(saying_text(wide(400))), wide(400))
         self.assertEqual(read_saying("m(p,q,r)"), ("m", "p", "q", "r"))
+        deep = "m(p, " * 30 + "q" + ")" * 30
+        self.assertEqual(saying_text(read_saying(deep)), deep)
+        self.assertEqual(saying_depth(read_sheet("p, " + deep + "|")[0][1]), 30)
 
     def test_wrong_texts(self):
         for text, at in (
@@ -118,6 +121,7 @@ class SayingsTest(Wrong, unittest.TestCase):
                 ("p|", 1), ("p\n", 1), ("\np", 0), ("p,q", 1), ("()", 0), ("a()()", 3), ("a()b", 3), ("a(\tb)", 2),
                 ("aB", 1), ("\u00e9", 0), ("a\u00a0", 1), ("no(no(p)", 8),
                 ("a(" * 31 + "p" + ")" * 31, 61), ("a(" * 30 + "p (" + ")" * 31, 62), ("a(" * 30 + "P", 60),
+                ("m(p, " * 30 + "a(p", 151), ("m(p,q," * 30 + "a()", 181), ("m(p)" + "(p)", 4),
                 (saying_text(wide(400)).replace("(p", "(p(p)", 1), len(saying_text(wide(400))) + 3),
                 (saying_text(wide(400)).replace("(p", "(p(p)", 1) + ")", len(saying_text(wide(400))) + 3)):
             self.wrong(InvalidText, {"at": at}, read_saying, text)
@@ -142,7 +146,7 @@ class SheetsTest(Wrong, unittest.TestCase):
         for text, at in (("", 0), ("  ", 2), ("p", 1), ("p ", 2), ("p q | r", 2), ("p, | r", 3), (", p |", 0),
                          ("p | q | r", 6), ("||", 1), ("p | q,", 6), ("p | q, ", 7), ("p | ,", 4), ("p | q)", 5),
                          ("p, q", 4), ("p |\n", 3), ("p | Q", 4), ("p; q |", 1), ("no(p | q)", 5),
-                         ("p | " + "a(" * 31, 65)):
+                         ("p | " + "a(" * 31, 65), ("p, " + "a(" * 31, 64), ("|q, " + "a(" * 31, 65)):
             self.wrong(InvalidText, {"at": at}, read_sheet, text)
         great = "p | " + saying_text(wide(400)).replace("(p", "(p(p)", 1)
         self.wrong(InvalidText, {"at": len(great)}, read_sheet, great)
