@@ -36,9 +36,9 @@ class JoinRemover:
     def _done(self, number, one, other):
         """What the two come to, or None if it is not worked out yet."""
         bit = 1 << number
-        if not one.right & bit or other.word == "start" and other.left == bit:
+        if not one.right & bit or (other.word == "start" and other.left == bit):
             return one
-        if not other.left & bit or one.word == "start" and one.right == bit:
+        if not other.left & bit or (one.word == "start" and one.right == bit):
             return other
         left, right = _join_end(bit, one, other)
         if left & right:
