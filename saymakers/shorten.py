@@ -4,7 +4,7 @@
 def shortened(bench, part, left, right, kept):
     """A proof without joins and thinnings whose end lies within the sheet, as the part's end does.
 
-    Walking up with the whole sheet, a rule is left out where one of its premises adds nothing.
+    Walking up with the whole sheet, a rule is left out where nothing that a premise adds is used.
     """
     if left & right:
         return bench.start_part(bench.sayings[(left & right).bit_length() - 1])
@@ -18,9 +18,6 @@ def _worked(bench, part, left, right, kept):
     """What the part, a thinning or a rule, comes to in the sheet."""
     if part.word == "thin":
         return shortened(bench, part.kids[0], left, right, kept)
-    for kid, (more_left, more_right) in zip(part.kids, part.premises):
-        if lies_in(more_left, more_right, left, right):
-            return shortened(bench, kid, left, right, kept)
     kids = []
     for kid, (more_left, more_right) in zip(part.kids, part.premises):
         short = shortened(bench, kid, left | more_left, right | more_right, kept)
