@@ -1,11 +1,12 @@
 """Books of makers and rules, and what they tell by rows."""
 
 from saymakers.errors import (
-    InvalidBook, InvalidMakers, InvalidPremises, InvalidRow, InvalidRules, InvalidSaying, InvalidSheet, InvalidSize,
-    NoMaker, NoRule, Refused)
-from saymakers.forms import beside, is_too_great, ordered_lot, own_saying, own_sheet
+    InvalidBook, InvalidMakers, InvalidPremises, InvalidRow, InvalidRules, InvalidSaying, InvalidSize, NoMaker, NoRule,
+    Refused)
+from saymakers.forms import beside, is_too_great, ordered_lot
 from saymakers.kinds import (
     MOST_PLACES, SIDES, formed_row, is_number_below, is_sequence, lot_of, row_of_places, rows_of)
+from saymakers.needs import need_own_sayings, need_own_sheet
 from saymakers.premises import all_hold, formed_premise, holds_in, waking_rows
 from saymakers.rules import formed_rule, makers_in_order, read_lines, rule_line, wrong_maker
 
@@ -133,14 +134,7 @@ def _need_parts(book, rule, sayings):
     """The sayings for the rule's places."""
     if not is_sequence(sayings) or len(sayings) != book.maker_places(rule[0]):
         raise InvalidSaying(-1)
-    places = dict(book.makers)
-    parts = []
-    for at, value in enumerate(sayings):
-        saying = own_saying(value, places)
-        if saying is None:
-            raise InvalidSaying(at)
-        parts.append(saying)
-    return tuple(parts)
+    return need_own_sayings(book, sayings)
 
 
 def filled_premise(premise, sayings):
@@ -161,9 +155,7 @@ def rule_premises(book, number, sayings, sheet):
     """Each premise of the rule filled with the sayings, beside the sheet that has the rule's saying."""
     rule = need_number(book, number)
     parts = _need_parts(book, rule, sayings)
-    whole = own_sheet(sheet, dict(book.makers))
-    if whole is None:
-        raise InvalidSheet(-1)
+    whole = need_own_sheet(book, sheet)
     # A saying that is too great stands in no sheet.
     if (rule[0],) + parts not in whole[SIDES.index(rule[1])]:
         raise Refused(-1)

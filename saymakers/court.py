@@ -2,8 +2,9 @@
 
 from saymakers.books import need_book, truths_told
 from saymakers.errors import InvalidSaying, NotCalm, Refused
-from saymakers.forms import is_too_great, ordered_lot, own_saying
+from saymakers.forms import is_too_great, ordered_lot
 from saymakers.kinds import MOST_PLACES, is_number, row_of_places
+from saymakers.needs import need_own_saying
 from saymakers.premises import all_hold, need_premises, waking_rows
 from saymakers.steps import brought, found_steps
 
@@ -74,13 +75,8 @@ def _rule_in_row(book, number, row, sayings):
 
 def nonsense_proof(book, one, other):
     """A proof of `one | other` by the first bad pair in its first row."""
-    places = dict(need_book(book).makers)
-    formed = []
-    for at, value in enumerate((one, other)):
-        saying = own_saying(value, places)
-        if saying is None:
-            raise InvalidSaying(at)
-        formed.append(saying)
+    need_book(book)
+    formed = [need_own_saying(book, one, 0), need_own_saying(book, other, 1)]
     pairs = bad_pairs(book)
     if not pairs:
         raise Refused(-1)

@@ -140,6 +140,11 @@ def formed_sheet(value, lists=True):
     return tuple(sides)
 
 
+def sheet_rank(sheet):
+    """What sheets are ordered by: their left sayings, then their right ones, each by rank."""
+    return tuple([tuple([rank_of(saying) for saying in side]) for side in sheet])
+
+
 def sheet_fits(sheet, places):
     """Whether all sayings of the sheet are of these makers."""
     return all([fits(saying, places) for saying in sheet[0] + sheet[1]])

@@ -1,10 +1,10 @@
 """Proofs as nested tuples: their ends, rows and fillings, and cutting them short."""
 
 from saymakers.books import need_book
-from saymakers.errors import InvalidProof, InvalidSaying, InvalidSheet, Refused
-from saymakers.forms import (
-    exact_own_sheet, filled_saying, filled_sheet, filling_table, is_too_great, own_saying, own_sheet)
+from saymakers.errors import InvalidProof, InvalidSaying, Refused
+from saymakers.forms import exact_own_sheet, filled_saying, filled_sheet, filling_table, is_too_great, own_saying
 from saymakers.kinds import is_number_below
+from saymakers.needs import need_own_sheet
 from saymakers.parts import Bench
 from saymakers.proofreader import (
     MOST_PARTS_DEEP, ProofReader, is_rule_what, listed_parts, need_facts, proofs_within)
@@ -26,9 +26,7 @@ def proof_end(book, proof, facts=()):
 
 def proof_holds(book, sheet, value, facts=()):
     """Whether the value is a proof with just this end."""
-    whole = own_sheet(sheet, dict(need_book(book).makers))
-    if whole is None:
-        raise InvalidSheet(-1)
+    whole = need_own_sheet(need_book(book), sheet)
     formed = need_facts(book, facts)
     try:
         return proof_end(book, value, formed) == whole

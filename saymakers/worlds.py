@@ -1,9 +1,11 @@
 """Worlds: truths of closed lots of sayings that keep the rules of a book."""
 
-from saymakers.books import need_book, truths_told
-from saymakers.errors import InvalidIndex, InvalidSaying, InvalidSheet, InvalidSize, InvalidWorld, Refused
-from saymakers.forms import fits, formed_saying, formed_sheet, own_saying, parts_of, rank_of, text_of
+from saymakers.books import need_book
+from saymakers.closed import ClosedLot, let_truths
+from saymakers.errors import InvalidIndex, InvalidSheet, InvalidSize, InvalidWorld, Refused
+from saymakers.forms import fits, formed_saying, formed_sheet, rank_of, text_of
 from saymakers.kinds import is_number_below, is_sequence
+from saymakers.needs import need_own_saying, need_own_sayings
 
 _MOST_SAYINGS = 12
 _MOST_FOR_SHEETS = 7
@@ -28,10 +30,7 @@ def _let_truths(book, saying, truths):
     """The truths that the rules let the saying have; the dict has those of its parts by their texts."""
     if isinstance(saying, str):
         return (0, 1)
-    told = truths_told(book, saying[0], tuple([truths[text_of(part)] for part in saying[1:]]))
-    if not told:
-        return (0, 1)
-    return told if len(told) == 1 else ()
+    return let_truths(book, saying[0], tuple([truths[text_of(part)] for part in saying[1:]]))
 
 
 def _own_world(book, value, lists):
@@ -54,9 +53,15 @@ def _parts_are_there(saying, truths):
     return isinstance(saying, str) or all([text_of(part) in truths for part in saying[1:]])
 
 
+def own_truths(book, value):
+    """The truths, by texts, of a value that is a world of the book in tuples; else None."""
+    found = _own_world(book, value, False)
+    return None if found is None else found[1]
+
+
 def is_world(book, value):
     """Whether the value is a world of the book."""
-    return _own_world(need_book(book), value, False) is not None
+    return own_truths(need_book(book), value) is not None
 
 
 def next_truths(book, world, saying):
@@ -64,9 +69,7 @@ def next_truths(book, world, saying):
     found = _own_world(need_book(book), world, True)
     if found is None:
         raise InvalidWorld(-1)
-    whole = own_saying(saying, dict(book.makers))
-    if whole is None:
-        raise InvalidSaying(-1)
+    whole = need_own_saying(book, saying)
     truths = found[1]
     if text_of(whole) in truths or not _parts_are_there(whole, truths):
         raise Refused(-1)
@@ -82,75 +85,53 @@ def keeps_sheet(world, sheet):
     if sides is None:
         raise InvalidSheet(-1)
     truths = {text_of(saying): truth for saying, truth in pairs}
-    if not all([text_of(saying) in truths for saying in sides[0] + sides[1]]):
+    if not are_told(truths, sides[0] + sides[1]):
         raise Refused(-1)
-    return _is_kept(truths, sides)
+    return is_kept(truths, sides)
 
 
-def _is_kept(truths, sheet):
+def are_told(truths, sayings):
+    """Whether there is a truth, by texts, for each of the sayings."""
+    return all([text_of(saying) in truths for saying in sayings])
+
+
+def is_kept(truths, sheet):
     """Whether the truths, by texts, keep the sheet."""
     left, right = [[truths[text_of(saying)] for saying in side] for side in sheet]
     return 0 in left or 1 in right
 
 
 def _need_lot(book, sayings, most):
-    """The sayings and all their parts, not more than so many."""
-    places = dict(need_book(book).makers)
-    if not is_sequence(sayings):
-        raise InvalidSaying(-1)
-    formed = []
-    for at, value in enumerate(sayings):
-        saying = own_saying(value, places)
-        if saying is None:
-            raise InvalidSaying(at)
-        formed.append(saying)
-    lot = parts_of(formed)
-    if len(lot) > most:
+    """The lot of the sayings and all their parts, not more than so many."""
+    lot = ClosedLot(book, need_own_sayings(need_book(book), sayings))
+    if len(lot.sayings) > most:
         raise InvalidSize("sayings")
     return lot
 
 
-def _worlds_of(book, lot):
-    """The truths of all worlds of a closed lot, in its order, ascending."""
-    texts = [text_of(saying) for saying in lot]
-    worlds = [()]
-    for at, saying in enumerate(lot):
-        longer = []
-        for world in worlds:
-            truths = dict(zip(texts[:at], world))
-            longer.extend([world + (truth,) for truth in _let_truths(book, saying, truths)])
-        worlds = longer
-    return worlds
-
-
 def world_count(book, sayings):
     """How many worlds the sayings and all their parts have."""
-    return len(_worlds_of(book, _need_lot(book, sayings, _MOST_SAYINGS)))
+    return len(_need_lot(book, sayings, _MOST_SAYINGS).worlds())
 
 
 def nth_world(book, sayings, index):
     """The world of this number, put by truths in the order of the sayings."""
     lot = _need_lot(book, sayings, _MOST_SAYINGS)
-    worlds = _worlds_of(book, lot)
+    worlds = lot.worlds()
     if not is_number_below(index, len(worlds)):
         raise InvalidIndex(-1)
-    return tuple(zip(lot, worlds[index]))
+    return lot.world_pairs(worlds[index])
 
 
 def kept_count(book, sayings):
     """How many sheets over the closed lot, no saying on both sides, all its worlds keep."""
     lot = _need_lot(book, sayings, _MOST_FOR_SHEETS)
-    worlds = [_bits_of(world) for world in _worlds_of(book, lot)]
+    worlds = lot.worlds()
     many = 0
-    for left, right in _all_sides(len(lot)):
+    for left, right in _all_sides(len(lot.sayings)):
         if all([left & ~world or right & world for world in worlds]):
             many += 1
     return many
-
-
-def _bits_of(world):
-    """The truths of a world as the bits of a number."""
-    return sum([truth << at for at, truth in enumerate(world)])
 
 
 def _all_sides(many):

@@ -22,6 +22,13 @@ FACTS = (SHEET, ((), ("p",)))
 SIGNED = plain_signed(TONK)
 SIGN_RULES = (("m", (1, 0), (((0, 1), (2, 1)), ())), ("m", (2,), ()), ("m", (2, 2), ()))
 ROW_OF_P = ((("p",), ("p",)), "start", "p", ())
+NO_LOT = ("p", ("no", "p"))
+HEAP = (((0, 0), (0, 1)), ((1, 0), (1,)))
+SIDE, NEXT = (("q", "p"), ()), ((), (("and", "p", "q"), "q"))
+MIDDLE = (((), ("p",)), ((), ("q",)))
+PAIRS = ((1, ("tonk", "p", "q")), (0, "q"), (1, "p"), (0, "p"))
+BARE = Book(MAY.makers, ())
+TABLES = (("n", 1, (0, None)), ("m", 0, (1,)))
 
 # (module, name, arguments, the places of papers: there no lists stand)
 CALLS = (
@@ -65,6 +72,22 @@ CALLS = (
     ("worlds", "world_count", (MAY, ("q", ("may", "p"))), ()), ("worlds", "nth_world", (MAY, ("q", ("may", "p")), 2), ()),
     ("worlds", "kept_count", (MAY, ("q", ("may", "p"))), ()),
     ("detours", "without_joins", (AND, JOIN), (1,)), ("detours", "join_out", (AND, JOIN), (1,)),
+    ("heaps", "careful_fault", (LOGIC,), ()), ("heaps", "heap_holds", (NO, NO_LOT, HEAP), (2,)),
+    ("heaps", "sheet_kept", (NO, NO_LOT, HEAP, (NO_LOT[::-1], ())), (2,)),
+    ("judge", "sheet_paper", (AND, OTHER), ()), ("judge", "fewest_uses", (AND, SHEET), ()),
+    ("judge", "sheet_holds", (AND, SHEET, ("world", (("p", 1), ("q", 1), ("r", 0)))), (2,)),
+    ("middles", "possible_rows", (MAY, (("may", "p"), "p")), ()), ("middles", "taken_rows", (AND, ("q", "p"), NEXT), ()),
+    ("middles", "common_atoms", (AND, SIDE, NEXT), ()), ("middles", "middle_holds", (AND, SIDE, NEXT, MIDDLE), (3,)),
+    ("middles", "first_middle", (AND, SIDE, NEXT), ()), ("middles", "last_middle", (AND, SIDE, NEXT), ()),
+    ("middles", "middle_count", (AND, SIDE, NEXT), ()), ("middles", "fewest_atoms", (AND, SIDE, NEXT), ()),
+    ("middles", "some_middle", (AND, SIDE, NEXT), ()), ("middles", "middle_chain", (AND, (SIDE, NEXT, SIDE)), ()),
+    ("middles", "chain_holds", (AND, (SIDE, NEXT), (MIDDLE,)), (2,)),
+    ("signproofs", "signed_end", (plain_signed(AND), RULE), (1,)), ("signproofs", "signed_paper", (plain_signed(AND), ((0, "p"),)), ()),
+    ("signproofs", "signed_holds", (SIGNED, PAIRS, ("proof", ("start", "p"))), (2,)),
+    ("signproofs", "joinless_proof", (SIGNED, PAIRS), ()),
+    ("tables", "tables_apart", (MAY, BARE), ()),
+    ("tables", "apart_holds", (MAY, BARE, ("may", (1,), (("q",), ("r", ("may", "q"))), 0)), (2,)),
+    ("tables", "told_book", (TABLES,), ()), ("tables", "nth_table", (2, 50), ()), ("tables", "table_number", (1, (None, 1)), ()),
 )
 
 INTERFACE = {
@@ -81,6 +104,12 @@ INTERFACE = {
     "signs": "Signed plain_signed awake_signed signed_table signed_court odds_hold signed_nonsense",
     "worlds": "is_world next_truths keeps_sheet world_count nth_world kept_count",
     "detours": "without_joins join_out",
+    "heaps": "careful_fault heap_holds sheet_kept",
+    "judge": "sheet_paper sheet_holds fewest_uses",
+    "middles": "possible_rows taken_rows common_atoms middle_holds first_middle last_middle middle_count fewest_atoms "
+               "some_middle middle_chain chain_holds",
+    "signproofs": "signed_end signed_holds signed_paper joinless_proof",
+    "tables": "tables_apart apart_holds told_book nth_table table_number",
 }
 PARAMETERS = {
     "saying_depth": "saying", "saying_text": "saying", "saying_rank": "saying", "saying_parts": "saying",
@@ -102,7 +131,15 @@ PARAMETERS = {
     "odds_hold": "signed value", "signed_nonsense": "signed", "is_world": "book value",
     "next_truths": "book world saying", "keeps_sheet": "world sheet", "world_count": "book sayings",
     "nth_world": "book sayings index", "kept_count": "book sayings", "without_joins": "book proof",
-    "join_out": "book proof",
+    "join_out": "book proof", "careful_fault": "book", "heap_holds": "book sayings value",
+    "sheet_kept": "book sayings heap sheet", "sheet_paper": "book sheet", "sheet_holds": "book sheet value",
+    "fewest_uses": "book sheet", "possible_rows": "book atoms", "taken_rows": "book atoms sheet",
+    "common_atoms": "book first second", "middle_holds": "book first second value", "first_middle": "book first second",
+    "last_middle": "book first second", "middle_count": "book first second", "fewest_atoms": "book first second",
+    "some_middle": "book first second", "middle_chain": "book sheets", "chain_holds": "book sheets value",
+    "signed_end": "signed proof", "signed_holds": "signed sheet value", "signed_paper": "signed sheet",
+    "joinless_proof": "signed sheet", "tables_apart": "one other", "apart_holds": "one other value",
+    "told_book": "tables", "nth_table": "places number", "table_number": "places table",
 }
 
 
@@ -171,7 +208,7 @@ class BasicsTest(unittest.TestCase):
 
     def test_whether_is_a_bool(self):
         for module, name, args, papers in CALLS:
-            if name.startswith(("is_", "keeps_", "lies_")) or name.endswith(("_hold", "_holds", "_awake")):
+            if name.startswith(("is_", "keeps_", "lies_")) or name.endswith(("_hold", "_holds", "_awake", "_kept")):
                 self.assertIn(called(module, name)(*args), (True, False))
                 self.assertIs(type(called(module, name)(*args)), bool, name)
 

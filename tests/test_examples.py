@@ -35,10 +35,15 @@ EXAMPLES = {
     """,
     "chapter 6": """
     >>> from saymakers.books import read_book
+    >>> from saymakers.judge import fewest_uses, sheet_paper
     >>> from saymakers.worlds import world_count
     >>> book = read_book("maker and 2\\nright and: | 1; | 2\\nleft and: 1 2 |\\nmaker may 1\\nright may: | 1")
-    >>> world_count(book, [("may", "p")])
-    3
+    >>> sheet_paper(book, ((("and", "p", "q"),), (("may", "q"),)))[0]
+    'proof'
+    >>> sheet_paper(book, ((("may", "p"),), ("p",)))
+    ('world', (('p', 0), (('may', 'p'), 1)))
+    >>> fewest_uses(book, ((("and", "p", "q"),), (("and", "q", "p"),)))[0], world_count(book, [("may", "p")])
+    (2, 3)
     """,
     "chapter 11": """
     >>> from saymakers.books import Book, book_text
@@ -47,6 +52,20 @@ EXAMPLES = {
     maker tonk 2
     left tonk: 2 |
     right tonk: | 1; 1 | 2
+    """,
+    "chapter 12": """
+    >>> from saymakers.books import read_book
+    >>> from saymakers.middles import common_atoms, middle_count, middle_holds, some_middle
+    >>> from saymakers.sayings import read_sheet
+    >>> book = read_book("maker and 2\\nmaker so 1\\nright and: | 1; | 2\\nleft and: 1 2 |")
+    >>> first, second = read_sheet("and(p, and(q, so(q))) |"), read_sheet("and(so(q), r) | and(q, s)")
+    >>> common_atoms(book, first, second), some_middle(book, first, second)
+    (('q', ('so', 'q')), None)
+    >>> third = read_sheet("r | and(so(q), q)")
+    >>> middle_holds(book, first, third, (((), ("q",)), ((), (("so", "q"),))))
+    True
+    >>> middle_count(book, first, third)
+    1
     """,
 }
 

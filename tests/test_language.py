@@ -163,7 +163,7 @@ class LanguageTest(unittest.TestCase):
             for each in node.args:
                 self.assertNotIsInstance(each, ast.Starred, (name, node.lineno))
             if isinstance(node.func, ast.Name) and node.func.id in BUILTINS:
-                self.assertLessEqual({each.arg for each in node.keywords}, {"key"}, (name, node.lineno))
+                self.assertLessEqual({each.arg for each in node.keywords}, {"key", "start"}, (name, node.lineno))
 
     def test_iterators_and_sets_are_used_at_once(self):
         for name, tree in TREES.items():

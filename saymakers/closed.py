@@ -1,0 +1,108 @@
+"""Lots of sayings closed under parts, and their worlds.
+
+A saying of such a lot has its place there as its number, and the bit of this number stands for it.
+A world is an integer, too: the bits of the sayings that are 1.
+"""
+
+from saymakers.books import truths_told
+from saymakers.forms import parts_of, text_of
+from saymakers.kinds import rows_of
+
+
+def let_truths(book, name, row):
+    """The truths that the maker's rules let a saying with this row have."""
+    told = truths_told(book, name, row)
+    if not told:
+        return (0, 1)
+    return told if len(told) == 1 else ()
+
+
+class ClosedLot:
+    """Sayings of a book and all their parts, ascending."""
+
+    def __init__(self, book, sayings):
+        self.book = book
+        self.sayings = parts_of(sayings)
+        self._numbers = {text_of(saying): number for number, saying in enumerate(self.sayings)}
+        self.letters = self.bits_of([saying for saying in self.sayings if isinstance(saying, str)])
+        self.every = (1 << len(self.sayings)) - 1
+        tables = {}
+        for name, places in book.makers:
+            tables[name] = {row: let_truths(book, name, row) for row in rows_of(places)}
+        # For each saying with a maker: the numbers of its places, and what its rows let.
+        self._let = [self._row_table(saying, tables) for saying in self.sayings]
+
+    def _row_table(self, saying, tables):
+        """(numbers of what stands in the places, truths let by rows); None for a letter."""
+        if isinstance(saying, str):
+            return None
+        return [self.number_of(part) for part in saying[1:]], tables[saying[0]]
+
+    def number_of(self, saying):
+        """The number of a saying of the lot."""
+        return self._numbers[text_of(saying)]
+
+    def bits_of(self, sayings):
+        """The bits of sayings of the lot."""
+        bits = 0
+        for saying in sayings:
+            bits = bits | (1 << self.number_of(saying))
+        return bits
+
+    def sheet_bits(self, sheet):
+        """The bits of both sides of a sheet."""
+        return self.bits_of(sheet[0]), self.bits_of(sheet[1])
+
+    def lot_of_bits(self, bits):
+        """The sayings of these bits, ascending."""
+        return tuple([saying for number, saying in enumerate(self.sayings) if bits >> number & 1])
+
+    def truths_let(self, number, world):
+        """The truths that the saying of this number may have in a world that has its parts."""
+        if self._let[number] is None:
+            return (0, 1)
+        places, table = self._let[number]
+        return table[tuple([world >> place & 1 for place in places])]
+
+    def worlds(self, left=0, right=0):
+        """All worlds, ascending by truths, in which the left bits are 1 and the right ones 0."""
+        found = [0]
+        for number in range(len(self.sayings)):
+            longer = []
+            for world in found:
+                for truth in self.truths_let(number, world):
+                    if not (right if truth else left) >> number & 1:
+                        longer.append(world | truth << number)
+            found = longer
+        return found
+
+    def world_pairs(self, world):
+        """The world as a tuple of (saying, truth)."""
+        return tuple([(saying, world >> number & 1) for number, saying in enumerate(self.sayings)])
+
+
+def breaks(world, sheet):
+    """Whether in the world all left sayings of the sheet, told in bits, are 1 and all right ones 0."""
+    return not sheet[0] & ~world and not sheet[1] & world
+
+
+def filled_rules(lot):
+    """(left bits, right bits, rule, sayings, premises as bits) for each rule on each saying of the lot.
+
+    The bits are those of the saying, on the rule's side.
+    """
+    filled = []
+    for number, saying in enumerate(lot.sayings):
+        if isinstance(saying, str):
+            continue
+        for rule, (name, side, premises) in enumerate(lot.book.rules):
+            if name == saying[0]:
+                own = (1 << number, 0) if side == "left" else (0, 1 << number)
+                sheets = [tuple([_place_bits(lot, saying, places) for places in premise]) for premise in premises]
+                filled.append(own + (rule, saying[1:], tuple(sheets)))
+    return tuple(filled)
+
+
+def _place_bits(lot, saying, places):
+    """The bits of what stands in the places of the saying."""
+    return lot.bits_of([saying[place] for place in places])
