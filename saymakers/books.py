@@ -4,10 +4,9 @@ from saymakers.errors import (
     InvalidBook, InvalidMakers, InvalidPremises, InvalidRow, InvalidRules, InvalidSaying, InvalidSize, NoMaker, NoRule,
     Refused)
 from saymakers.forms import beside, is_too_great, ordered_lot
-from saymakers.kinds import (
-    MOST_PLACES, SIDES, formed_row, is_number_below, is_sequence, lot_of, row_of_places, rows_of)
+from saymakers.kinds import SIDES, formed_row, is_number_below, is_sequence, lot_of, row_of_places, rows_of
 from saymakers.needs import need_own_sayings, need_own_sheet
-from saymakers.premises import all_hold, formed_premise, holds_in, waking_rows
+from saymakers.premises import all_hold, formed_premise, holds_in, need_places, waking_rows
 from saymakers.rules import formed_rule, makers_in_order, read_lines, rule_line, wrong_maker
 
 _MOST_RULES = 60
@@ -15,9 +14,7 @@ _MOST_RULES = 60
 
 def all_rows(places):
     """All rows of truths for so many places, ascending."""
-    if not is_number_below(places, MOST_PLACES + 1):
-        raise InvalidSize("places")
-    return rows_of(places)
+    return rows_of(need_places(places))
 
 
 def premise_holds(premise, row):

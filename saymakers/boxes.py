@@ -1,32 +1,27 @@
-"""Rows of few places as bits, boxes of rows, and covers by as few lots as can be."""
+"""Lots of rows of few places as bits, boxes of rows, and covers by as few lots as can be.
+
+The k-th bit stands for the k-th row of the places.
+"""
 
 from itertools import combinations
 
-from saymakers.errors import InvalidLot, InvalidSize
-from saymakers.kinds import MOST_PLACES, is_number_below, is_sequence, row_of_places, rows_of
+from saymakers.errors import InvalidLot
+from saymakers.kinds import is_number_below, is_sequence, row_of_places, rows_of
 
-_EITHER = 2
-
-
-def need_places(places):
-    """A number of places."""
-    if not is_number_below(places, MOST_PLACES + 1):
-        raise InvalidSize("places")
-    return places
+EITHER = 2
 
 
 def need_rows(places, rows):
-    """The rows of these places as bits: the k-th bit stands for the k-th row."""
+    """The bits of rows of these places."""
     if not is_sequence(rows):
         raise InvalidLot(-1)
-    bits = 0
-    every = rows_of(places)
+    formed = []
     for at, value in enumerate(rows):
         row = row_of_places(value, places)
         if row is None:
             raise InvalidLot(at)
-        bits = bits | (1 << every.index(row))
-    return bits
+        formed.append(row)
+    return bits_of_rows(places, formed)
 
 
 def wrong_figure(places, table):
@@ -39,39 +34,46 @@ def wrong_figure(places, table):
     return None
 
 
+def bits_of_rows(places, rows):
+    """The bits of the rows."""
+    return sum([1 << at for at, row in enumerate(rows_of(places)) if row in rows])
+
+
 def rows_of_bits(places, bits):
     """The rows of these bits, ascending."""
     return tuple([row for at, row in enumerate(rows_of(places)) if bits >> at & 1])
 
 
-def is_box(value, places):
-    """Whether the value is, as a tuple, a box of these places."""
-    return row_of_places(value, places, _EITHER + 1, lists=False) is not None
+def all_bits(places):
+    """The bits of all rows."""
+    return (1 << (1 << places)) - 1
 
 
 def box_bits(box):
-    """The rows of a box as bits."""
-    bits = 0
-    for at, row in enumerate(rows_of(len(box))):
-        if all([sign in (truth, _EITHER) for sign, truth in zip(box, row)]):
-            bits = bits | (1 << at)
-    return bits
+    """The bits of the rows of a box."""
+    rows = [row for row in rows_of(len(box)) if all([sign in (truth, EITHER) for sign, truth in zip(box, row)])]
+    return bits_of_rows(len(box), rows)
 
 
 def boxes_within(places, bits):
-    """(box, its rows) for all boxes that have no other rows than these, ascending."""
-    every = [(box, box_bits(box)) for box in rows_of(places, _EITHER + 1)]
-    return [(box, rows) for box, rows in every if not rows & ~bits]
+    """(box, its bits) for all boxes that have no other rows than these, ascending."""
+    boxes = [(box, box_bits(box)) for box in rows_of(places, EITHER + 1)]
+    return [(box, own) for box, own in boxes if not own & ~bits]
 
 
-def fewest_covers(named, bits):
-    """All lots of as few names of the pairs (name, rows) as can be whose rows have these together."""
-    pairs = list(named)
+def spanned_box(one, other):
+    """The least box that has both rows."""
+    return tuple([truth if truth == more else EITHER for truth, more in zip(one, other)])
+
+
+def fewest_covers(lots, bits):
+    """All rows of as few names of the pairs (name, bits) as can be that have all these bits together."""
+    pairs = list(lots)
     for many in range(len(pairs) + 1):
         covers = []
         for lot in combinations(pairs, many):
-            if not bits & ~united([rows for name, rows in lot]):
-                covers.append(tuple([name for name, rows in lot]))
+            if not bits & ~united([own for name, own in lot]):
+                covers.append(tuple([name for name, own in lot]))
         if covers:
             return covers
     return []
@@ -86,12 +88,12 @@ def united(lots):
 
 
 def box_premises(box):
-    """The premises that hold just in the rows of the box, with one place each."""
-    rights = [((), (at,)) for at, sign in enumerate(box, start=1) if sign == 1]
-    return rights + [((at,), ()) for at, sign in enumerate(box, start=1) if sign == 0]
+    """The premises, of one place each, that hold just in the rows of the box."""
+    rights = [((), (place,)) for place, sign in enumerate(box, start=1) if sign == 1]
+    return rights + [((place,), ()) for place, sign in enumerate(box, start=1) if sign == 0]
 
 
 def barring_premise(row):
     """The premise that holds in all rows but this one."""
-    left = [at for at, truth in enumerate(row, start=1) if truth == 1]
-    return tuple(left), tuple([at for at, truth in enumerate(row, start=1) if truth == 0])
+    left = [place for place, truth in enumerate(row, start=1) if truth == 1]
+    return tuple(left), tuple([place for place, truth in enumerate(row, start=1) if truth == 0])

@@ -5,8 +5,9 @@ A world is an integer, too: the bits of the sayings that are 1.
 """
 
 from saymakers.books import truths_told
-from saymakers.forms import parts_of, text_of
+from saymakers.forms import parts_of
 from saymakers.kinds import rows_of
+from saymakers.numbered import Numbered
 
 
 def let_truths(book, name, row):
@@ -17,15 +18,14 @@ def let_truths(book, name, row):
     return told if len(told) == 1 else ()
 
 
-class ClosedLot:
-    """Sayings of a book and all their parts, ascending."""
+class ClosedLot(Numbered):
+    """Sayings of a book and all their parts, numbered ascending."""
 
     def __init__(self, book, sayings):
+        Numbered.__init__(self)
         self.book = book
-        self.sayings = parts_of(sayings)
-        self._numbers = {text_of(saying): number for number, saying in enumerate(self.sayings)}
+        self.every = self.bits_of(parts_of(sayings))
         self.letters = self.bits_of([saying for saying in self.sayings if isinstance(saying, str)])
-        self.every = (1 << len(self.sayings)) - 1
         tables = {}
         for name, places in book.makers:
             tables[name] = {row: let_truths(book, name, row) for row in rows_of(places)}
@@ -37,25 +37,6 @@ class ClosedLot:
         if isinstance(saying, str):
             return None
         return [self.number_of(part) for part in saying[1:]], tables[saying[0]]
-
-    def number_of(self, saying):
-        """The number of a saying of the lot."""
-        return self._numbers[text_of(saying)]
-
-    def bits_of(self, sayings):
-        """The bits of sayings of the lot."""
-        bits = 0
-        for saying in sayings:
-            bits = bits | (1 << self.number_of(saying))
-        return bits
-
-    def sheet_bits(self, sheet):
-        """The bits of both sides of a sheet."""
-        return self.bits_of(sheet[0]), self.bits_of(sheet[1])
-
-    def lot_of_bits(self, bits):
-        """The sayings of these bits, ascending."""
-        return tuple([saying for number, saying in enumerate(self.sayings) if bits >> number & 1])
 
     def truths_let(self, number, world):
         """The truths that the saying of this number may have in a world that has its parts."""

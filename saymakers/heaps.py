@@ -31,12 +31,18 @@ def need_faultless(book):
     return book
 
 
-def need_careful_sheet(book, sheet):
-    """The sheet in order, of the book's sayings, with at most one on the right."""
-    whole = own_sheet(sheet, dict(book.makers))
-    if whole is None or len(whole[1]) > 1:
+def own_careful_sheet(book, value):
+    """The value as a sheet in order, of the book's sayings, with at most one on the right; else None."""
+    sheet = own_sheet(value, dict(book.makers))
+    return None if sheet is None or len(sheet[1]) > 1 else sheet
+
+
+def need_careful_sheet(book, value):
+    """The value as such a sheet."""
+    sheet = own_careful_sheet(book, value)
+    if sheet is None:
         raise InvalidSheet(-1)
-    return whole
+    return sheet
 
 
 def _closed_start(book, values, lists):

@@ -1,47 +1,28 @@
 """Premises that lead to others by steps, and prime ones."""
 
 from saymakers.books import Book, need_book
-from saymakers.errors import InvalidPremises, InvalidRow, InvalidSize
-from saymakers.kinds import MOST_PLACES, is_number_below, is_sequence, lot_of, row_of_places
-from saymakers.premises import formed_premise, has_both, holds_in, is_within, need_premises, waking_rows
+from saymakers.errors import InvalidPremises, InvalidRow
+from saymakers.kinds import is_sequence, lot_of, row_of_places
+from saymakers.premises import (
+    formed_premise, has_both, holds_in, is_within, least_premises, need_places, need_premises, plain_premises,
+    waking_rows)
 from saymakers.steps import brought, found_steps
-
-
-def _need_places(places):
-    """Places are a number to 3."""
-    if not is_number_below(places, MOST_PLACES + 1):
-        raise InvalidSize("places")
-
-
-def _plain_premises(places):
-    """All premises of these places without a place on both sides."""
-    premises = [((), ())]
-    for place in range(1, places + 1):
-        more = [(left + (place,), right) for left, right in premises]
-        more.extend([(left, right + (place,)) for left, right in premises])
-        premises = premises + more
-    return premises
 
 
 def _prime_of_rows(places, rows):
     """The prime ones of the premises that hold in all these rows, ascending."""
-    holding = [each for each in _plain_premises(places) if all([holds_in(each, row) for row in rows])]
-    prime = []
-    for premise in holding:
-        if not any([other != premise and is_within(other, premise) for other in holding]):
-            prime.append(premise)
-    return lot_of(prime)
+    return least_premises([each for each in plain_premises(places) if all([holds_in(each, row) for row in rows])])
 
 
 def prime_premises(places, premises):
     """The least premises that hold wherever all these do, ascending."""
-    _need_places(places)
+    need_places(places)
     return _prime_of_rows(places, waking_rows(need_premises(premises, places), places))
 
 
 def rows_premises(places, rows):
     """The prime premises that are awake in just these rows, ascending."""
-    _need_places(places)
+    need_places(places)
     if not is_sequence(rows):
         raise InvalidRow(-1)
     formed = []
@@ -55,7 +36,7 @@ def rows_premises(places, rows):
 
 def _need_lead(places, premises, goal):
     """(premises ascending, the goal), both in order."""
-    _need_places(places)
+    need_places(places)
     told = lot_of(need_premises(premises, places))
     found = formed_premise(goal, places)
     if found is None:

@@ -3,8 +3,8 @@
 Sayings get numbers as they come, and the sides of an end are integers whose bits stand for them.
 """
 
-from saymakers.forms import rank_of, text_of
 from saymakers.kinds import SIDES
+from saymakers.numbered import Numbered
 
 
 class Part:
@@ -23,40 +23,15 @@ class Part:
         self.deep = max([0] + [kid.deep for kid in kids]) + 1
 
 
-class Bench:
+class Bench(Numbered):
     """Makes parts of proofs for a book; parts are numbered behind those within them."""
 
     def __init__(self, book):
+        Numbered.__init__(self)
         self.book = book
-        self.sayings = []
         self.parts = []
-        self._numbers = {}
         self._kept = {}
         self._fillings = {}
-
-    def number_of(self, saying):
-        """The number of the saying."""
-        text = text_of(saying)
-        if text not in self._numbers:
-            self._numbers[text] = len(self.sayings)
-            self.sayings.append(saying)
-        return self._numbers[text]
-
-    def bits_of(self, sayings):
-        """The bits of all these sayings."""
-        bits = 0
-        for saying in sayings:
-            bits = bits | (1 << self.number_of(saying))
-        return bits
-
-    def lot_of_bits(self, bits):
-        """The sayings of these bits, ascending."""
-        found = [saying for number, saying in enumerate(self.sayings) if bits >> number & 1]
-        return tuple(sorted(found, key=rank_of))
-
-    def sheet_of(self, left, right):
-        """The sheet of these bits."""
-        return self.lot_of_bits(left), self.lot_of_bits(right)
 
     def _put(self, key, what, kids):
         """The part of this key, and whether it is new."""

@@ -1,7 +1,14 @@
 """Premises of places: when they hold, and what steps make of them."""
 
-from saymakers.errors import InvalidPremises
-from saymakers.kinds import is_number, is_sequence, lot_of, rows_of
+from saymakers.errors import InvalidPremises, InvalidSize
+from saymakers.kinds import MOST_PLACES, is_number, is_number_below, is_sequence, lot_of, rows_of
+
+
+def need_places(places):
+    """A number of places that a maker may have."""
+    if not is_number_below(places, MOST_PLACES + 1):
+        raise InvalidSize("places")
+    return places
 
 
 def formed_premise(value, places):
@@ -53,6 +60,22 @@ def has_both(premise):
 def is_within(premise, other):
     """Whether all places of the one stand so in the other."""
     return all([place in other[side] for side in (0, 1) for place in premise[side]])
+
+
+def plain_premises(places):
+    """All premises of these places without a place on both sides."""
+    premises = [((), ())]
+    for place in range(1, places + 1):
+        more = [(left + (place,), right) for left, right in premises]
+        more.extend([(left, right + (place,)) for left, right in premises])
+        premises = premises + more
+    return premises
+
+
+def least_premises(premises):
+    """Those within which no other one lies, ascending."""
+    least = [each for each in premises if not any([other != each and is_within(other, each) for other in premises])]
+    return lot_of(least)
 
 
 def can_step(one, other, place):

@@ -47,14 +47,14 @@ class ProofReader:
         """The part that the value is, so deep within the whole."""
         at = self._seen
         self._seen += 1
-        if deep > MOST_PARTS_DEEP or not self._is_formed(value):
+        if deep > MOST_PARTS_DEEP or not self.is_formed(value):
             raise InvalidProof(at)
         kids = []
         for kid in proofs_within(value):
             kids.append(self.read(kid, deep + 1))
         return self._part(value, tuple(kids))
 
-    def _is_formed(self, value):
+    def is_formed(self, value):
         """Whether the value has the form of a proof, but for the proofs within it."""
         if not isinstance(value, tuple) or not value or not isinstance(value[0], str):
             return False

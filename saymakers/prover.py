@@ -12,8 +12,7 @@ from saymakers.shorten import lies_in
 def lot_bench(lot):
     """A bench whose numbers of sayings are those of the lot."""
     bench = Bench(lot.book)
-    for saying in lot.sayings:
-        bench.number_of(saying)
+    bench.bits_of(lot.sayings)
     return bench
 
 

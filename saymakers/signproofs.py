@@ -40,7 +40,7 @@ def _end_of(signed, parts):
         # From the last part back, the ends of the proofs within lie on top, the first one's uppermost.
         kids = [ends.pop() for kid in proofs_within(part)]
         ends.append(_part_end(signed, pairs, part, kids))
-    return pairs.sheet_of(ends[0])
+    return pairs.signs_of(ends[0])
 
 
 def _part_end(signed, pairs, part, kids):
@@ -48,11 +48,11 @@ def _part_end(signed, pairs, part, kids):
     if part[0] == "start":
         return pairs.all_signs(part[1])
     if part[0] == "thin":
-        return pairs.bits_of(part[1]) | kids[0]
+        return pairs.pair_bits(part[1]) | kids[0]
     if part[0] == "join":
         return pairs.joined_end(part[1], kids[0], kids[1])
     name, lot, premises = signed.rules[part[1]]
-    end = pairs.bits_of([(sign, (name,) + part[2]) for sign in lot])
+    end = pairs.pair_bits([(sign, (name,) + part[2]) for sign in lot])
     for kid, premise in zip(kids, pairs.filled_premises(premises, part[2])):
         end = end | (kid & ~premise)
     return end

@@ -56,7 +56,7 @@ class SignRule:
         _, signs, premises = rules[number]
         self.number = number
         self.sayings = saying[1:]
-        self.lot = pairs.bits_of([(sign, saying) for sign in signs])
+        self.lot = pairs.pair_bits([(sign, saying) for sign in signs])
         self.premises = pairs.filled_premises(premises, self.sayings)
 
 
@@ -65,7 +65,7 @@ class SignProver:
 
     def __init__(self, signed, sheet, names):
         self._pairs = PairBits(signed.count)
-        self._sheet = self._pairs.bits_of(sheet)
+        self._sheet = self._pairs.pair_bits(sheet)
         sayings = parts_of([saying for sign, saying in sheet])
         made = [saying for saying in sayings if not isinstance(saying, str)]
         self._starts = [(self._pairs.all_signs(saying), saying) for saying in sayings]
@@ -79,7 +79,7 @@ class SignProver:
         part = self._proved(self._sheet)
         if part is None or part.end == self._sheet:
             return None if part is None else part.proof
-        return ("thin", self._pairs.sheet_of(self._sheet), part.proof)
+        return ("thin", self._pairs.signs_of(self._sheet), part.proof)
 
     def _proved(self, sheet):
         """The smallest part found whose end lies within the sheet, or None."""
@@ -133,7 +133,7 @@ class SignProver:
 
     def _lacking(self, sheet, saying):
         """The bits of the signs of the saying that the sheet lacks."""
-        bits = [self._pairs.bits_of([(sign, saying)]) for sign in range(self._pairs.count)]
+        bits = [self._pairs.pair_bits([(sign, saying)]) for sign in range(self._pairs.count)]
         return [bit for bit in bits if not bit & sheet]
 
     def _by_joins(self, saying, sheet):

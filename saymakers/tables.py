@@ -1,11 +1,12 @@
 """Tables of makers: what tells two books apart, books with tables told, all tables by numbers."""
 
 from saymakers.books import Book, maker_table, need_book
-from saymakers.boxes import barring_premise, need_places, wrong_figure
+from saymakers.boxes import barring_premise, wrong_figure
 from saymakers.court import need_calm
 from saymakers.errors import InvalidIndex, InvalidLot, InvalidMakers, Refused
 from saymakers.forms import ordered_lot
 from saymakers.kinds import SIDES, is_number_below, is_sequence, row_of_places, rows_of
+from saymakers.premises import need_places
 from saymakers.rules import MOST_MAKERS, is_maker
 
 _FIGURES = (0, 1, None)

@@ -29,6 +29,12 @@ MIDDLE = (((), ("p",)), ((), ("q",)))
 PAIRS = ((1, ("tonk", "p", "q")), (0, "q"), (1, "p"), (0, "p"))
 BARE = Book(MAY.makers, ())
 TABLES = (("n", 1, (0, None)), ("m", 0, (1,)))
+MAYS = ((("may", "q"), ("may", "p")), (("may", "p"),))
+HALVES = ("half", (("p", 0), (("may", "p"), 2)))
+TWO, BACK = ("and", "p", "q"), ("and", "q", "p")
+TOLD = ((("q",), ("p",)), ((), ("q",)))
+ROWS = ((1, 1), (0, 1), (1, 1), (1, 0))
+AGAINST = ("world", (("p", 0), ("q", 1)))
 
 # (module, name, arguments, the places of papers: there no lists stand)
 CALLS = (
@@ -85,6 +91,27 @@ CALLS = (
     ("signproofs", "signed_end", (plain_signed(AND), RULE), (1,)), ("signproofs", "signed_paper", (plain_signed(AND), ((0, "p"),)), ()),
     ("signproofs", "signed_holds", (SIGNED, PAIRS, ("proof", ("start", "p"))), (2,)),
     ("signproofs", "joinless_proof", (SIGNED, PAIRS), ()),
+    ("wholly", "open_rows", (MAY, "may"), ()), ("wholly", "whole_paper", (AND, "and"), ()),
+    ("wholly", "whole_holds", (MAY, "may", ("open", (0,))), (2,)), ("wholly", "letters_paper", (MAY, MAYS), ()),
+    ("wholly", "letters_hold", (MAY, (MAYS[1], MAYS[1]), HALVES), (2,)), ("wholly", "lot_paper", (MAY, ("q", MAYS[0][1])), ()),
+    ("alike", "exchange_kind", (MAY,), ()), ("alike", "exchange_paper", (AND, TWO, BACK), ()),
+    ("alike", "exchange_holds", (EMPTY, "p", "q", ("unlike", (("p", 0), ("q", 1)))), (3,)),
+    ("alike", "making_count", (MAY,), ()), ("alike", "nth_making", (MAY, 1), ()), ("alike", "like_sheets", (MAY, MAYS[0]), ()),
+    ("alike", "always_paper", (MAY, MAYS), ()), ("alike", "always_holds", (EMPTY, ((), ("p",)), ("made", 0, (("p", 0),))), (2,)),
+    ("careful", "careful_end", (AND, TOLD, ("join", "q", ("told", 1), RULE)), (2,)),
+    ("careful", "careful_paper", (AND, TOLD, ((), (TWO,))), ()),
+    ("careful", "careful_holds", (AND, TOLD, ((), ("q",)), ("proof", ("told", 1))), (3,)),
+    ("careful", "said_alone", (AND, TWO), ()), ("careful", "careful_court", (TONK,), ()),
+    ("facts", "follow_paper", (AND, TOLD, ((), (TWO,))), ()), ("facts", "follow_holds", (AND, TOLD[:1], ((), ("p",)), AGAINST), (3,)),
+    ("facts", "taken_sheets", (SHEET, TOLD[0]), ()), ("facts", "unfolded_sheets", (TOLD, SHEET), ()),
+    ("facts", "joined_proof", (AND, TOLD, ((), (TWO,))), ()), ("facts", "reason_lots", (AND, TOLD, (((), (TWO,)), SHEET)), ()),
+    ("facts", "break_lots", (AND, TOLD, (((), (TWO,)), SHEET)), ()), ("facts", "peace_lots", (AND, TOLD), ()),
+    ("facts", "rule_sheets", (LOGIC, (TWO, BACK)), ()),
+    ("fewest", "single_paper", (2, ROWS), ()), ("fewest", "single_lots", (2, ROWS), ()),
+    ("fewest", "single_holds", (2, ROWS, (((1, 2), (2, 1)), ((0, 1), (1, 0)))), (2,)),
+    ("fewest", "kind_breach", (2, ROWS, "right"), ()), ("fewest", "kind_premises", (2, ROWS, "left"), ()),
+    ("fewest", "kind_lots", (2, ROWS, "right"), ()), ("fewest", "premise_count", (2, ROWS), ()),
+    ("fewest", "wider_rules", (1, (None, 1)), ()), ("fewest", "least_book", (LOGIC,), ()),
     ("tables", "tables_apart", (MAY, BARE), ()),
     ("tables", "apart_holds", (MAY, BARE, ("may", (1,), (("q",), ("r", ("may", "q"))), 0)), (2,)),
     ("tables", "told_book", (TABLES,), ()), ("tables", "nth_table", (2, 50), ()), ("tables", "table_number", (1, (None, 1)), ()),
@@ -110,6 +137,13 @@ INTERFACE = {
                "some_middle middle_chain chain_holds",
     "signproofs": "signed_end signed_holds signed_paper joinless_proof",
     "tables": "tables_apart apart_holds told_book nth_table table_number",
+    "wholly": "open_rows whole_paper whole_holds letters_paper letters_hold lot_paper",
+    "alike": "exchange_kind exchange_paper exchange_holds making_count nth_making like_sheets always_paper always_holds",
+    "careful": "careful_end careful_paper careful_holds said_alone careful_court",
+    "facts": "follow_paper follow_holds taken_sheets unfolded_sheets joined_proof break_lots reason_lots peace_lots "
+             "rule_sheets",
+    "fewest": "single_paper single_holds single_lots kind_breach kind_premises kind_lots premise_count wider_rules "
+              "least_book",
 }
 PARAMETERS = {
     "saying_depth": "saying", "saying_text": "saying", "saying_rank": "saying", "saying_parts": "saying",
@@ -140,6 +174,18 @@ PARAMETERS = {
     "signed_end": "signed proof", "signed_holds": "signed sheet value", "signed_paper": "signed sheet",
     "joinless_proof": "signed sheet", "tables_apart": "one other", "apart_holds": "one other value",
     "told_book": "tables", "nth_table": "places number", "table_number": "places table",
+    "open_rows": "book maker", "whole_paper": "book maker", "whole_holds": "book maker value",
+    "letters_paper": "book sheet", "letters_hold": "book sheet value", "lot_paper": "book sayings",
+    "exchange_kind": "book", "exchange_paper": "book one other", "exchange_holds": "book one other value",
+    "making_count": "book", "nth_making": "book number", "like_sheets": "book sayings", "always_paper": "book sheet",
+    "always_holds": "book sheet value", "careful_end": "book facts value", "careful_paper": "book facts sheet",
+    "careful_holds": "book facts sheet value", "said_alone": "book saying", "careful_court": "book",
+    "follow_paper": "book facts sheet", "follow_holds": "book facts sheet value", "taken_sheets": "sheet fact",
+    "unfolded_sheets": "facts sheet", "joined_proof": "book facts sheet", "break_lots": "book facts goals",
+    "reason_lots": "book facts goals", "peace_lots": "book facts", "rule_sheets": "book sayings",
+    "single_paper": "places rows", "single_holds": "places rows value", "single_lots": "places rows",
+    "kind_breach": "places rows kind", "kind_premises": "places rows kind", "kind_lots": "places rows kind",
+    "premise_count": "places rows", "wider_rules": "places table", "least_book": "book",
 }
 
 
@@ -225,7 +271,7 @@ class BasicsTest(unittest.TestCase):
             parameters = inspect.signature(called(module, name)).parameters
             self.assertEqual(list(parameters), PARAMETERS[name].split(), name)
             for parameter in parameters.values():
-                right = () if parameter.name == "facts" else inspect.Parameter.empty
+                right = () if parameter.name == "facts" and module == "proofs" else inspect.Parameter.empty
                 self.assertEqual(parameter.default, right)
 
 

@@ -45,6 +45,24 @@ EXAMPLES = {
     >>> fewest_uses(book, ((("and", "p", "q"),), (("and", "q", "p"),)))[0], world_count(book, [("may", "p")])
     (2, 3)
     """,
+    "chapter 7": """
+    >>> from saymakers.books import Book
+    >>> from saymakers.facts import break_lots, reason_lots, unfolded_sheets
+    >>> facts, goal = [(("p",), ("q",)), (("q",), ("r",)), ((), ("r",))], (("p",), ("r",))
+    >>> reason_lots(Book((), ()), facts, [goal]), [lot for lot, world in break_lots(Book((), ()), facts, [goal])]
+    (((0, 1), (2,)), [(0, 2), (1, 2)])
+    >>> unfolded_sheets(facts[:1], (("s",), ("r",)))
+    ((('q', 's'), ('r',)), (('s',), ('p', 'r')))
+    """,
+    "chapter 8": """
+    >>> from saymakers.books import read_book
+    >>> from saymakers.wholly import letters_paper, whole_paper
+    >>> book = read_book("maker may 1\\nright may: | 1")
+    >>> whole_paper(book, "may")
+    ('open', (0,))
+    >>> letters_paper(book, ((("may", "p"),), (("may", "p"),)))
+    ('half', (('p', 0), (('may', 'p'), 2)))
+    """,
     "chapter 11": """
     >>> from saymakers.books import Book, book_text
     >>> rules = [("tonk", "right", [((), (1,)), ((1,), (2,))]), ("tonk", "left", [((2,), ())])]

@@ -1,6 +1,5 @@
 """[41] to [43]: rows of atoms, middles, chains."""
 
-import itertools
 import random
 import unittest
 
@@ -16,7 +15,7 @@ from tests.test_judge import NO_SHEETS
 from tests.test_sayings import NO_SAYINGS
 from tests.test_worlds import closed
 from tests.tools import (
-    AND, EMPTY, JUNK, LOGIC, MAY, TONK, Wrong, all_worlds, changed, in_order, is_all_tuples, is_kept, listed, lots,
+    AND, EMPTY, JUNK, LOGIC, MAY, Wrong, all_worlds, changed, in_order, is_all_tuples, is_kept, listed, lots,
     parts, random_book, rows, sheet_of, tells)
 
 SO = read_book("maker and 2\nmaker so 1\nright and: | 1; | 2\nleft and: 1 2 |")

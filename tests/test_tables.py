@@ -4,7 +4,7 @@ import itertools
 import random
 import unittest
 
-from saymakers.books import Book, book_text, maker_table, put_rules, read_book
+from saymakers.books import Book, book_text, maker_table, put_rules
 from saymakers.court import bad_pairs, is_calm
 from saymakers.errors import InvalidBook, InvalidIndex, InvalidLot, InvalidMakers, InvalidSize, NotCalm, Refused
 from saymakers.judge import sheet_paper
