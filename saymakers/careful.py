@@ -40,7 +40,7 @@ class CarefulReader:
         self._facts = facts
         self._reader = ProofReader(book, facts)
 
-    def end(self, value):
+    def read_end(self, value):
         """The end of a careful proof as a sheet; None for any other value."""
         parts = self._listed(value)
         if parts is None:
@@ -126,7 +126,7 @@ def _bit(number):
 def careful_end(book, facts, value):
     """The end of a careful proof from the facts; None for any other value."""
     told = _need_careful_facts(need_careful(need_book(book)), facts)
-    return CarefulReader(book, told).end(value)
+    return CarefulReader(book, told).read_end(value)
 
 
 def _small_lot(book, sayings):
@@ -148,8 +148,8 @@ def careful_paper(book, facts, sheet):
     barring = [world for world in kept if breaks(world, (left, right))]
     if barring:
         return ("heap", tuple(lot.sayings), heap_from(lot, kept, barring[0]))
-    proof = CarefulSearch(lot, bits).proof(left, right)
-    if CarefulReader(book, told).end(proof) == whole:
+    proof = CarefulSearch(lot, bits).smallest_proof(left, right)
+    if CarefulReader(book, told).read_end(proof) == whole:
         return ("proof", proof)
     return ("proof", ("thin", whole, proof))
 
@@ -167,7 +167,7 @@ def careful_holds(book, facts, sheet, value):
 
 def _is_careful_proof(book, facts, sheet, value):
     """Whether the value is a careful proof of the sheet with joins on sayings of facts alone."""
-    if CarefulReader(book, facts).end(value) != sheet:
+    if CarefulReader(book, facts).read_end(value) != sheet:
         return False
     told = [saying for fact in facts for side in fact for saying in side]
     return all([part[0] != "join" or part[1] in told for part in listed_parts(value)])
@@ -212,7 +212,7 @@ def careful_court(book):
     proof = ("join", (book.rules[right][0],) + sayings, one, _rule_from_fact(book, left, row, sayings))
     sheet = ((_TRUE_LETTER,), ())
     told = (((_FALSE_LETTER,), ()),)
-    if CarefulReader(book, told).end(proof) != sheet:
+    if CarefulReader(book, told).read_end(proof) != sheet:
         proof = ("thin", sheet, proof)
     return ("clash", right, left, row, proof)
 

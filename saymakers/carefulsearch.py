@@ -70,11 +70,11 @@ class CarefulSearch:
         joined = 0
         for left, right in facts:
             joined = joined | left | right
-        self._joined = [number for number in range(len(lot.sayings)) if joined >> number & 1]
+        self._join_numbers = [number for number in range(len(lot.sayings)) if joined >> number & 1]
         self._rules = filled_rules(lot)
         self._best = {}
 
-    def proof(self, left, right):
+    def smallest_proof(self, left, right):
         """A careful proof whose end lies within the sheet, known to have one."""
         # What has more sayings has a greater number, so it is worked out ahead.
         for more in reversed(range(left, self.lot.every + 1)):
@@ -102,12 +102,10 @@ class CarefulSearch:
         for at, (fact_left, fact_right) in enumerate(self._facts):
             if not fact_left & ~left and fact_right in (NOTHING, number):
                 found.append(Step("told", at, (), 1))
-        if number != NOTHING and (left, NOTHING) in self._best:
-            found.append(self._best[(left, NOTHING)])
         for filled in self._rules:
             if filled[0] & left or (number != NOTHING and filled[1] >> number & 1):
                 self._put_step(found, "rule", filled, _rule_states(filled, left, number))
-        for joined in self._joined:
+        for joined in self._join_numbers:
             self._put_step(found, "join", joined, ((left, joined), (left | 1 << joined, number)))
         return found
 

@@ -64,13 +64,13 @@ class SignProver:
     """Proves sheets of signs over the parts of a sheet, with joins on sayings of these makers alone."""
 
     def __init__(self, signed, sheet, names):
-        self._pairs = PairBits(signed.count)
-        self._sheet = self._pairs.pair_bits(sheet)
+        self._pairing = PairBits(signed.count)
+        self._sheet = self._pairing.pair_bits(sheet)
         sayings = parts_of([saying for sign, saying in sheet])
         made = [saying for saying in sayings if not isinstance(saying, str)]
-        self._starts = [(self._pairs.all_signs(saying), saying) for saying in sayings]
+        self._starts = [(self._pairing.all_signs(saying), saying) for saying in sayings]
         self._split = [saying for saying in made if saying[0] in names]
-        self._rules = [SignRule(self._pairs, signed.rules, number, saying) for saying in made
+        self._rules = [SignRule(self._pairing, signed.rules, number, saying) for saying in made
                        for number, rule in enumerate(signed.rules) if rule[0] == saying[0]]
         self._kept = {}
 
@@ -79,7 +79,7 @@ class SignProver:
         part = self._proved(self._sheet)
         if part is None or part.end == self._sheet:
             return None if part is None else part.proof
-        return ("thin", self._pairs.signs_of(self._sheet), part.proof)
+        return ("thin", self._pairing.signs_of(self._sheet), part.proof)
 
     def _proved(self, sheet):
         """The smallest part found whose end lies within the sheet, or None."""
@@ -133,7 +133,7 @@ class SignProver:
 
     def _lacking(self, sheet, saying):
         """The bits of the signs of the saying that the sheet lacks."""
-        bits = [self._pairs.pair_bits([(sign, saying)]) for sign in range(self._pairs.count)]
+        bits = [self._pairing.pair_bits([(sign, saying)]) for sign in range(self._pairing.count)]
         return [bit for bit in bits if not bit & sheet]
 
     def _by_joins(self, saying, sheet):
@@ -142,7 +142,7 @@ class SignProver:
         for bit in self._lacking(sheet, saying):
             if whole is not None and not whole.end & bit:
                 continue
-            part = self._proved(sheet | (self._pairs.all_signs(saying) & ~bit))
+            part = self._proved(sheet | (self._pairing.all_signs(saying) & ~bit))
             if part is None or not part.end & ~sheet:
                 return part
             whole = part if whole is None else self._joined(saying, whole, part)
@@ -150,5 +150,5 @@ class SignProver:
 
     def _joined(self, saying, one, other):
         """A join of two proofs on the saying."""
-        end = self._pairs.joined_end(saying, one.end, other.end)
+        end = self._pairing.joined_end(saying, one.end, other.end)
         return SignPart(("join", saying, one.proof, other.proof), end, one.size + other.size + 1)

@@ -49,11 +49,10 @@ def apart_holds(one, other, value):
     if not isinstance(value, tuple) or len(value) != 4:
         return False
     name, row, sheet, which = value
-    names = [own for own, places in one.makers]
-    if not isinstance(name, str) or name not in names or not is_number_below(which, 2):
+    if name not in [own for own, places in one.makers] or not is_number_below(which, 2):
         return False
     truths = row_of_places(row, one.maker_places(name), lists=False)
-    if truths is None or not isinstance(sheet, tuple):
+    if truths is None:
         return False
     at = rows_of(len(truths)).index(truths)
     tables = [maker_table(book, name) for book in (one, other)]

@@ -128,6 +128,8 @@ class PapersTest(Wrong, unittest.TestCase):
         self.assertEqual(end_sheet(BOTH, sheet_paper(BOTH, ((), ()))[1]), ((), ()))
         self.assertEqual(sheet_paper(EMPTY, (("p",), ("p",))), ("proof", ("start", "p")))
         self.assertEqual(sheet_paper(TONK, (["p"], ["p"])), ("proof", ("start", "p")))
+        self.assertEqual(sheet_paper(TONK, (("p", "q"), ("p", "q")))[0], "proof")
+        self.assertEqual(end_sheet(TONK, sheet_paper(TONK, (("p", "q"), ("p", "q")))[1]), (("p", "q"), ("p", "q")))
         self.assertEqual(sheet_paper(EMPTY, (("p", "q"), ("r",))), ("world", (("p", 1), ("q", 1), ("r", 0))))
         self.assertEqual(sheet_paper(LOGIC, ((), (("top",),)))[0], "proof")
         self.assertEqual(sheet_paper(LOGIC, ((("top",),), ())), ("world", ((("top",), 1),)))
@@ -135,6 +137,15 @@ class PapersTest(Wrong, unittest.TestCase):
         self.assertEqual(end_sheet(AND, sheet_paper(AND, ((whole, whole, "s"), ("s", whole)))[1]),
                          (("s", whole), ("s", whole)))
         self.assertEqual(sheet_paper(book=NO, sheet=[["q"], [["no", ["no", "q"]]]])[0], "proof")
+
+    def test_letters_with_names_of_makers(self):
+        book = read_book("maker p 1\nright p:\nmaker q 0\nleft q:\nmaker pp 1\nright pp: | 1\nleft pp: 1 |")
+        for sheet, word in ((((), ("p",)), "world"), ((("q",), ()), "world"), (((), (("p", "p"),)), "proof"),
+                            ((("q",), ("p",)), "world"), (((("q",),), ()), "proof"), (((("pp", "pp"),), ("pp",)), "proof"),
+                            ((("pp",), ("p",)), "world")):
+            self.assertEqual(sheet_paper(book, sheet)[0], word)
+            self.check(book, sheet)
+            self.assertEqual(fewest_uses(book, sheet) is None, word == "world")
 
     def test_great_sayings_in_books_that_are_not_calm(self):
         """Sixty names are let: the rules' sayings of the proofs must not get too great for that."""

@@ -165,6 +165,13 @@ class LanguageTest(unittest.TestCase):
             if isinstance(node.func, ast.Name) and node.func.id in BUILTINS:
                 self.assertLessEqual({each.arg for each in node.keywords}, {"key", "start"}, (name, node.lineno))
 
+    def test_no_name_is_a_method_and_an_attribute(self):
+        methods = {each.name for name, node in nodes(ast.ClassDef) for each in node.body if isinstance(each, ast.FunctionDef)}
+        stored = {node.attr for name, node in nodes(ast.Attribute) if isinstance(node.ctx, ast.Store)}
+        self.assertEqual(methods & stored, set())
+        read = {node.attr for name, node in nodes(ast.Attribute) if isinstance(node.ctx, ast.Load)}
+        self.assertLessEqual(read, methods | stored | METHODS)
+
     def test_iterators_and_sets_are_used_at_once(self):
         for name, tree in TREES.items():
             above = parents(tree)

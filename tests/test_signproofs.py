@@ -9,6 +9,7 @@ from saymakers.errors import InvalidProof, InvalidSheet, InvalidSigned, Refused
 from saymakers.judge import fewest_uses, sheet_paper
 from saymakers.signproofs import joinless_proof, signed_end, signed_holds, signed_paper
 from saymakers.signs import Signed, plain_signed, signed_court, signed_nonsense
+from saymakers.signsearch import makers_with_joins
 from tests.some_proofs import random_saying
 from tests.test_sayings import DEEP, NO_SAYINGS, wide
 from tests.test_signs import THREE, awake, common, random_signed, sign_end
@@ -229,6 +230,7 @@ class PapersTest(Wrong, unittest.TestCase):
             paper = self.check(signed, sheet)
             self.assertEqual(paper[0] == "world", bool(barring(signed, sheet)))
             joined = paper[0] == "proof" and "join" in [part[0] for part in all_parts(paper[1])]
+            self.assertEqual(set(makers_with_joins(signed)), wanting(signed))
             found[paper[0], joined] = found.get((paper[0], joined), 0) + 1
         self.assertGreater(min(found.values()), 5)
         self.assertEqual(len(found), 3)
@@ -248,6 +250,33 @@ class PapersTest(Wrong, unittest.TestCase):
             self.assertEqual(paper[0], "proof")
             joined += "join" in [part[0] for part in all_parts(paper[1])]
         self.assertGreater(joined, 8)
+
+    def test_largest(self):
+        """Four signs, seven rules of up to six premises, five sayings, no pair of the sheet to be left out."""
+        rng = random.Random(279)
+        inner = ("m", "a", "b")
+        tried = 0
+        while tried < 30:
+            rules = [(rng.choice("mn"), rng.sample(range(4), rng.randint(1, 3)), [
+                [(sign, place) for sign in range(4) for place in (1, 2) if rng.random() < dense]
+                for _ in range(rng.randint(1, 6))]) for dense in (rng.choice((0.2, 0.4, 0.6)) for _ in range(7))]
+            signed = Signed(4, [("m", 2), ("n", 2)], rules)
+            if signed_court(signed) != ("calm",):
+                continue
+            tried += 1
+            lot = closed(rng.choice(((("m", inner, ("m", "b", "a")),), (("m", inner, "a"), ("n", inner, "b")), (("n", inner, "c"),),
+                                     (("m", ("m", ("m", ("m", "a", "a"), "a"), "a"), "a"),))))
+            sheet = told([(sign, saying) for saying in lot for sign in range(4)])
+            worlds = all_sign_worlds(signed, lot)
+            for pair in rng.sample(sheet, len(sheet)):
+                less = tuple(each for each in sheet if each != pair)
+                if all(any(world[saying] == sign for sign, saying in less) for world in worlds):
+                    sheet = less
+            self.assertEqual(self.check(signed, sheet)[0], "proof")
+            proof = joinless_proof(signed, sheet)
+            if proof is not None:
+                self.assertEqual(told(sign_end(signed, proof)), sheet)
+                self.check_size(proof)
 
     def test_edges(self):
         for signed in (JOINED, BUT_ONE, Signed(2, (), ())):
@@ -366,8 +395,8 @@ class HoldsTest(unittest.TestCase):
 
     def test_more_sayings_in_a_world(self):
         whole = ("m", "p")
-        for world, right in (((("p", 0),), True), ((("p", 0), ("q", 3)), True), ((("p", 0), (whole, 1)), True),
-                             ((("p", 0), (whole, 0)), False), ((("p", 1),), False), ((), False), ((("q", 1),), False),
+        for world, right in (((("p", 0),), True), ((("p", 0), ("q", 3)), True), ((("p", 0), ("zz", 3)), True),
+                             ((("p", 0), (whole, 1)), True), ((("p", 0), (whole, 0)), False), ((("p", 1),), False), ((), False), ((("q", 1),), False),
                              (((whole, 1), ("p", 0)), False), (((whole, 1),), False), ([("p", 0)], False)):
             self.assertIs(signed_holds(BUT_ONE, ((1, "p"),), ("world", world)), right, world)
 
@@ -382,12 +411,17 @@ class HoldsTest(unittest.TestCase):
         self.assertEqual(signed_end(signed, thinned(300, start)), sheet)
         self.assertIs(signed_holds(signed, sheet, ("proof", thinned(99, start))), True)
         self.assertIs(signed_holds(signed, sheet, ("proof", thinned(100, start))), False)
-        many = start
-        while len(all_parts(many)) < 900:
-            many = ("join", "q", many, many)
-        self.assertEqual(len(all_parts(many)), 1023)
-        self.assertIs(signed_holds(signed, sheet, ("proof", many)), True)
-        self.assertIs(signed_holds(signed, sheet, ("proof", ("join", "q", many, many))), False)
+
+        def of_parts(many):
+            if many == 1:
+                return start
+            half = many // 4 * 2 + 1
+            return ("join", "q", of_parts(half), of_parts(many - 1 - half))
+        most = of_parts(1999)
+        self.assertEqual((len(all_parts(most)), depth_of(most) < 50), (1999, True))
+        self.assertIs(signed_holds(signed, sheet, ("proof", most)), True)
+        self.assertIs(signed_holds(signed, sheet, ("proof", ("thin", (), most))), False)
+        self.assertEqual(signed_end(signed, ("thin", (), most)), sheet)
 
 
 if __name__ == "__main__":

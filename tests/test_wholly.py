@@ -18,7 +18,7 @@ from tests.test_sayings import NO_SAYINGS
 from tests.test_worlds import closed, right_world
 from tests.tools import (
     AND, EMPTY, JUNK, LOGIC, MAY, TONK, XOR, Wrong, all_parts, all_worlds, changed, end_sheet, height_of, is_all_tuples,
-    is_same, listed, random_book, random_books, rows, tells, words_of)
+    is_same, listed, random_book, random_books, rows, sheet_of, tells, words_of)
 
 PARTLY = read_book("maker m 2\nright m: | 1; | 2\nleft m: 1 |\nmaker t 0\nright t:\nmaker o 0\nmaker s 1")
 MAY_P = ("may", "p")
@@ -240,6 +240,15 @@ class LettersTest(Wrong, unittest.TestCase):
             values += [("half", tuple(zip(lot, (1,) * len(lot))) + (("z", 0),)), ("half", tuple(zip(lot, (0,) * len(lot)))[:-1])]
             for value in values + list(changed(letters_paper(book, sheet)))[:600]:
                 self.assertIs(letters_hold(book, sheet, value), self.right(book, sheet, value), (book.rules, sheet, value))
+
+    def test_letters_with_names_of_makers(self):
+        book = read_book("maker p 0\nright p:\nmaker q 0\nleft q:\nmaker s 1")
+        for sheet in ((((("p",), "q"), ("p",))), ((("q", ("q",)), ("p",))), ((("s", "q"), "s"), (("s", "q"), ("p",)))):
+            sheet = sheet_of(*sheet)
+            self.assertTrue(self.right(book, sheet, letters_paper(book, sheet)))
+            for truths in itertools.product((0, 1, 2), repeat=len(closed(sheet[0] + sheet[1]))):
+                value = ("half", tuple(zip(closed(sheet[0] + sheet[1]), truths)))
+                self.assertIs(letters_hold(book, sheet, value), self.right(book, sheet, value))
 
     def test_with_joins(self):
         whole = ("and", "p", "q")
