@@ -194,9 +194,9 @@ def said_alone(book, saying):
     lot = _small_lot(book, (whole,))
     kept = greatest_heap(lot, ())
     own = lot.bits_of((whole,))
-    for _, right, number, _, premises in filled_rules(lot):
-        if right == own and not any([breaks(world, premise) for premise in premises for world in kept]):
-            return number
+    for rule in filled_rules(lot):
+        if rule.right == own and not any([breaks(world, premise) for premise in rule.premises for world in kept]):
+            return rule.number
     return None
 
 

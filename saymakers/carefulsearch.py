@@ -12,9 +12,10 @@ class HeapRule:
     """A filled rule, and the worlds, as bits of their numbers, that break a premise that must hold above, too."""
 
     def __init__(self, filled, many):
-        self.left, self.right, _, _, premises = filled
-        firm = [premise for premise in premises if self.right or premise[1]]
-        self.soft = [premise for premise in premises if not self.right and not premise[1]]
+        self.left = filled.left
+        self.right = filled.right
+        firm = [premise for premise in filled.premises if filled.right or premise[1]]
+        self.soft = [premise for premise in filled.premises if not filled.right and not premise[1]]
         self.broken = sum([1 << world for world in range(many) if any([breaks(world, each) for each in firm])])
 
     def bars(self, world, above):
@@ -103,7 +104,7 @@ class CarefulSearch:
             if not fact_left & ~left and fact_right in (NOTHING, number):
                 found.append(Step("told", at, (), 1))
         for filled in self._rules:
-            if filled[0] & left or (number != NOTHING and filled[1] >> number & 1):
+            if filled.left & left or (number != NOTHING and filled.right >> number & 1):
                 self._put_step(found, "rule", filled, _rule_states(filled, left, number))
         for joined in self._join_numbers:
             self._put_step(found, "join", joined, ((left, joined), (left | 1 << joined, number)))
@@ -121,14 +122,14 @@ class CarefulSearch:
         if step.word == "told":
             return ("told", step.what)
         if step.word == "rule":
-            return ("rule", step.what[2], step.what[3], proofs)
+            return ("rule", step.what.number, step.what.sayings, proofs)
         return (step.word, self.lot.sayings[step.what]) + proofs
 
 
 def _rule_states(filled, left, number):
     """The states that a filled rule needs; soft premises of a left rule may end in what the rule ends in."""
     states = []
-    for more, right in filled[4]:
-        soft = bool(filled[0]) and not right
+    for more, right in filled.premises:
+        soft = bool(filled.left) and not right
         states.append((left | more, number if soft else right.bit_length() - 1))
     return tuple(states)

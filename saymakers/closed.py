@@ -67,23 +67,25 @@ def breaks(world, sheet):
     return not sheet[0] & ~world and not sheet[1] & world
 
 
-def filled_rules(lot):
-    """(left bits, right bits, rule, sayings, premises as bits) for each rule on each saying of the lot.
+class FilledRule:
+    """A rule on a saying of a lot: its number, what stands in its places, its premises as pairs of bits.
 
-    The bits are those of the saying, on the rule's side.
+    The bits `left` and `right` are those of the saying, on the rule's side.
     """
-    filled = []
-    for number, saying in enumerate(lot.sayings):
-        if isinstance(saying, str):
-            continue
-        for rule, (name, side, premises) in enumerate(lot.book.rules):
-            if name == saying[0]:
-                own = (1 << number, 0) if side == "left" else (0, 1 << number)
-                sheets = [tuple([_place_bits(lot, saying, places) for places in premise]) for premise in premises]
-                filled.append(own + (rule, saying[1:], tuple(sheets)))
-    return tuple(filled)
+
+    def __init__(self, lot, number, saying):
+        _, side, premises = lot.book.rules[number]
+        own = lot.bits_of((saying,))
+        self.left = own if side == "left" else 0
+        self.right = own if side == "right" else 0
+        self.number = number
+        self.sayings = saying[1:]
+        self.premises = tuple([tuple([lot.bits_of([saying[place] for place in places]) for places in premise])
+                               for premise in premises])
 
 
-def _place_bits(lot, saying, places):
-    """The bits of what stands in the places of the saying."""
-    return lot.bits_of([saying[place] for place in places])
+def filled_rules(lot):
+    """The rules on all sayings of the lot, saying after saying."""
+    made = [saying for saying in lot.sayings if not isinstance(saying, str)]
+    return [FilledRule(lot, number, saying) for saying in made
+            for number, rule in enumerate(lot.book.rules) if rule[0] == saying[0]]

@@ -197,7 +197,7 @@ def reason_lots(book, facts, goals):
     told, sheets, lot = _need_reasons(book, facts, goals)
     breaches = {bits: True for bits, world in _breaches(lot, told, sheets)}
     enough = [(bits, 0) for bits in range(1 << len(told)) if all([bits & breach for breach in breaches])]
-    return tuple(sorted([_lot_of_facts(bits) for bits, _ in _least(enough)]))
+    return tuple(sorted([_lot_of_facts(bits) for bits, none in _least(enough)]))
 
 
 def _least_breaches(lot, facts, goals):
@@ -207,7 +207,7 @@ def _least_breaches(lot, facts, goals):
     for bits, world in breaches:
         firsts.setdefault(bits, world)
     least = _least([(bits, 0) for bits in firsts])
-    return sorted([(_lot_of_facts(bits), lot.world_pairs(firsts[bits])) for bits, _ in least])
+    return sorted([(_lot_of_facts(bits), lot.world_pairs(firsts[bits])) for bits, none in least])
 
 
 def break_lots(book, facts, goals):
@@ -229,9 +229,9 @@ def rule_sheets(book, sayings):
     """The sheets that truths must keep to be worlds, ascending by their texts."""
     lot = ClosedLot(book, need_own_sayings(need_book(book), sayings))
     found = []
-    for own_left, own_right, _, _, premises in filled_rules(lot):
-        sheets = [(own_left, own_right)]
-        for left, right in premises:
+    for rule in filled_rules(lot):
+        sheets = [(rule.left, rule.right)]
+        for left, right in rule.premises:
             choices = [(1 << at, 0) for at in range(right.bit_length()) if right >> at & 1]
             choices.extend([(0, 1 << at) for at in range(left.bit_length()) if left >> at & 1])
             sheets = _put_together(sheets, choices)

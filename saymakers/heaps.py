@@ -113,13 +113,13 @@ def _stands_below(worlds, number):
 
 def _rules_are_kept(lot, worlds):
     """Whether sayings are 1 where a right rule is sure, 0 where a left one is."""
-    for left, right, _, _, premises in filled_rules(lot):
-        firm = [premise for premise in premises if right or premise[1]]
-        soft = [premise for premise in premises if not right and not premise[1]]
+    for rule in filled_rules(lot):
+        firm = [premise for premise in rule.premises if rule.right or premise[1]]
+        soft = [premise for premise in rule.premises if not rule.right and not premise[1]]
         firm_here = [all([not breaks(bits, premise) for premise in firm]) for bits, above in worlds]
         for bits, above in worlds:
             # Only where the saying is what a sure rule would not let it be, the rule is looked at.
-            if bits & left or right & ~bits:
+            if bits & rule.left or rule.right & ~bits:
                 if all([not breaks(bits, premise) for premise in soft]) and all([firm_here[other] for other in above]):
                     return False
     return True

@@ -131,7 +131,7 @@ class FewestUses:
                 continue
             found = self._all_proved(sheets)
             if found is not None and (best is None or found[0] + 1 < best[0]):
-                best = (found[0] + 1, self.bench.rule_part(filled[2], filled[3], found[1]))
+                best = (found[0] + 1, self.bench.rule_part(filled.number, filled.sayings, found[1]))
         return best
 
     def _all_proved(self, sheets):

@@ -18,11 +18,10 @@ def lot_bench(lot):
 
 def open_premises(filled, left, right):
     """The premises of a filled rule beside the sheet; None if the rule does not fit or one brings nothing."""
-    own_left, own_right, rule, sayings, premises = filled
-    if not lies_in(own_left, own_right, left, right):
+    if not lies_in(filled.left, filled.right, left, right):
         return None
     sheets = []
-    for more_left, more_right in premises:
+    for more_left, more_right in filled.premises:
         if lies_in(more_left, more_right, left, right):
             return None
         sheets.append((left | more_left, right | more_right))
@@ -62,7 +61,7 @@ class Prover:
             if kid is None or lies_in(kid.left, kid.right, left, right):
                 return kid
             kids.append(kid)
-        return self.bench.rule_part(filled[2], filled[3], tuple(kids))
+        return self.bench.rule_part(filled.number, filled.sayings, tuple(kids))
 
     def _best_rule(self, left, right):
         """(filled rule, its sheets) with the fewest sheets that are no starts, or None."""
