@@ -8,11 +8,16 @@ from saymakers.forms import own_saying, own_sheet, rank_of
 from saymakers.kinds import formed_row, is_number_below, is_sequence, lot_of
 
 
+def has_fault(premise):
+    """Whether the premise has more than one place on the right."""
+    return len(premise[1]) > 1
+
+
 def careful_fault(book):
     """(rule, premise) of the first premise with more than one place on the right, or None."""
     for rule, (_, _, premises) in enumerate(need_book(book).rules):
         for number, premise in enumerate(premises):
-            if len(premise[1]) > 1:
+            if has_fault(premise):
                 return rule, number
     return None
 

@@ -10,7 +10,7 @@ from saymakers.needs import need_own_sheet
 from saymakers.premises import all_hold
 from saymakers.proofs import proof_holds
 from saymakers.prover import lot_bench, open_premises, sheet_proof
-from saymakers.worlds import are_told, is_kept, own_truths
+from saymakers.worlds import breaks_sheet
 
 _MOST_SAYINGS = 14
 _MOST_FOR_USES = 8
@@ -95,14 +95,8 @@ def sheet_holds(book, sheet, value):
     if value[0] == "proof":
         return proof_holds(book, whole, value[1])
     if value[0] == "world":
-        return is_calm(book) and _is_breaking(book, whole, value[1])
+        return is_calm(book) and breaks_sheet(book, whole, value[1])
     return value[0] == "even" and not is_calm(book) and is_number(value[1]) and value[1] in _barring_truths(book, whole)
-
-
-def _is_breaking(book, sheet, value):
-    """Whether the value is a world that has the sheet's sayings and does not keep it."""
-    truths = own_truths(book, value)
-    return truths is not None and are_told(truths, sheet[0] + sheet[1]) and not is_kept(truths, sheet)
 
 
 class FewestUses:

@@ -2,6 +2,8 @@
 
 MOST_PLACES = 3
 SIDES = ("left", "right")
+# The letters that stand for a maker's places.
+PLACE_LETTERS = ("a", "b", "c")
 _LETTERS = "abcdefghijklmnopqrstuvwxyz"
 _LONGEST_NAME = 8
 

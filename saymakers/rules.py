@@ -62,7 +62,7 @@ def _words(text):
     return [word for word in text.split(" ") if word]
 
 
-def _read_maker(line):
+def read_maker_line(line):
     """(name, places) of a maker's line, or None."""
     words = _words(line)
     if len(words) != 3 or words[0] != "maker" or not is_name(words[1]) or words[2] not in _COUNT_WORDS:
@@ -78,7 +78,7 @@ def _read_premise(text):
     return tuple([lot_of([int(word) for word in side]) for side in sides])
 
 
-def _read_rule(line):
+def read_rule_line(line):
     """(name, side, premises) of a rule's line, or None; places may be too great for the maker."""
     head, colon, body = line.partition(":")
     words = _words(head)
@@ -96,8 +96,8 @@ def read_lines(text):
     rules = []
     places = {}
     for number, line in enumerate(text.split("\n")):
-        maker = _read_maker(line)
-        rule = _read_rule(line)
+        maker = read_maker_line(line)
+        rule = read_rule_line(line)
         if maker is not None and maker[0] not in places:
             makers.append(maker)
             places[maker[0]] = maker[1]

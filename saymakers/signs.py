@@ -67,7 +67,7 @@ def need_signed(signed):
     return signed
 
 
-def _places_of(signed, name):
+def places_of(signed, name):
     """How many places the maker of this name has."""
     for own, places in signed.makers:
         if own == name:
@@ -107,7 +107,7 @@ def _common_signs(signed, numbers):
 
 def awake_signed(signed, name, row):
     """The numbers of the maker's rules that are awake in the row, ascending."""
-    signs = row_of_places(row, _places_of(need_signed(signed), name), signed.count)
+    signs = row_of_places(row, places_of(need_signed(signed), name), signed.count)
     if signs is None:
         raise InvalidRow(-1)
     return _awake(signed, name, signs)
@@ -115,7 +115,7 @@ def awake_signed(signed, name, row):
 
 def signed_table(signed, name):
     """For each row, ascending, the signs that the rules awake in it have in common."""
-    places = _places_of(need_signed(signed), name)
+    places = places_of(need_signed(signed), name)
     return tuple([_common_signs(signed, _awake(signed, name, row)) for row in rows_of(places, signed.count)])
 
 
@@ -169,14 +169,24 @@ def _are_odds(signed, name, row, numbers):
     return not _common_signs(signed, numbers)
 
 
+def row_letters(row):
+    """The letters that stand for the signs of a row."""
+    return tuple([_SIGN_LETTERS[sign] for sign in row])
+
+
+def row_refusal(count, row):
+    """For each sign in the row all pairs of its letter with other signs."""
+    return tuple([(sign, _SIGN_LETTERS[own]) for own in lot_of(row) for sign in range(count) if sign != own])
+
+
 def signed_nonsense(signed):
     """(the refusal of the row that the court tells, a proof of it)."""
     odds = _first_odds(need_signed(signed))
     if odds is None:
         raise Refused(-1)
     name, row, numbers = odds
-    letters = tuple([_SIGN_LETTERS[sign] for sign in row])
-    refusal = tuple([(sign, _SIGN_LETTERS[own]) for own in lot_of(row) for sign in range(signed.count) if sign != own])
+    letters = row_letters(row)
+    refusal = row_refusal(signed.count, row)
     proof = _rule_in_row(signed, numbers[0], row, letters)
     for number in numbers[1:]:
         proof = ("join", (name,) + letters, proof, _rule_in_row(signed, number, row, letters))

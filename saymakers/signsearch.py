@@ -13,15 +13,20 @@ from saymakers.signs import awake_signed, signed_table
 _MOST_KEPT = 5000
 
 
-def makers_with_joins(signed):
-    """The names of makers with a row that is not open and whose table is the lot of no rule awake in it."""
-    names = {}
+def rows_with_joins(signed):
+    """(maker, row, table) for each row that is not open and whose table is the lot of no rule awake in it."""
+    found = []
     for name, places in signed.makers:
         for row, table in zip(rows_of(places, signed.count), signed_table(signed, name)):
             lots = [signed.rules[number][1] for number in awake_signed(signed, name, row)]
             if len(table) < signed.count and table not in lots:
-                names[name] = True
-    return list(names)
+                found.append((name, row, table))
+    return found
+
+
+def makers_with_joins(signed):
+    """The names of the makers of such rows."""
+    return [name for name, row, table in rows_with_joins(signed)]
 
 
 def some_sign_world(signed, sheet):

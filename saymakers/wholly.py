@@ -4,13 +4,12 @@ from saymakers.books import maker_table, need_book, truths_told
 from saymakers.closed import ClosedLot
 from saymakers.court import need_calm
 from saymakers.forms import parts_of, text_of
-from saymakers.kinds import is_number_below, row_of_places, rows_of
+from saymakers.kinds import PLACE_LETTERS, is_number_below, row_of_places, rows_of
 from saymakers.needs import need_own_sayings, need_own_sheet
 from saymakers.proofreader import listed_parts
 from saymakers.proofs import proof_holds
 from saymakers.prover import Prover
 
-_LETTERS = ("a", "b", "c")
 _HALF = 2
 
 
@@ -28,7 +27,7 @@ def open_rows(book, maker):
 
 def _own_sheet(book, maker):
     """The sheet with the maker's saying of letters on both sides."""
-    whole = (maker,) + _LETTERS[:book.maker_places(maker)]
+    whole = (maker,) + PLACE_LETTERS[:book.maker_places(maker)]
     return ((whole,), (whole,))
 
 

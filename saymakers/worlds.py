@@ -101,6 +101,12 @@ def is_kept(truths, sheet):
     return 0 in left or 1 in right
 
 
+def breaks_sheet(book, sheet, value):
+    """Whether the value is a world of the book that has the sheet's sayings and does not keep it."""
+    truths = own_truths(book, value)
+    return truths is not None and are_told(truths, sheet[0] + sheet[1]) and not is_kept(truths, sheet)
+
+
 def _need_lot(book, sayings, most):
     """The lot of the sayings and all their parts, not more than so many."""
     lot = ClosedLot(book, need_own_sayings(need_book(book), sayings))

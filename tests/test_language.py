@@ -127,7 +127,7 @@ class LanguageTest(unittest.TestCase):
         for name, node in nodes((ast.Lambda, ast.NamedExpr, ast.Yield, ast.SetComp, ast.GeneratorExp, ast.Div, ast.Set)):
             self.fail((name, node.lineno, type(node).__name__))
         for name, node in nodes(ast.ExceptHandler):
-            self.assertTrue(isinstance(node.type, ast.Name) and node.type.id.startswith("Invalid"))
+            self.assertTrue(isinstance(node.type, ast.Name) and node.type.id.startswith(("Invalid", "SayError")))
         for name, node in nodes(ast.Raise):
             self.assertIsInstance(node.exc, ast.Call)
         for name, node in nodes(ast.Compare):
