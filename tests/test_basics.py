@@ -1,4 +1,4 @@
-"""[1] to [3]: equal calls give equal results, arguments stay as they are, objects are not iterable."""
+"""[1] to [4]: equal calls give equal results, arguments stay as they are, objects are not iterable, errors by name."""
 
 import copy
 import importlib
@@ -6,7 +6,10 @@ import inspect
 import itertools
 import unittest
 
-from saymakers.books import Book
+from saymakers.books import Book, read_book
+from saymakers.checker import make_record
+from saymakers.desk import Desk
+from saymakers.live import Live
 from saymakers.signs import Signed, plain_signed
 from tests.tools import AND, EMPTY, LOGIC, MAY, NO, TONK, is_all_tuples, is_same, listed
 
@@ -35,6 +38,15 @@ TWO, BACK = ("and", "p", "q"), ("and", "q", "p")
 TOLD = ((("q",), ("p",)), ((), ("q",)))
 ROWS = ((1, 1), (0, 1), (1, 1), (1, 0))
 AGAINST = ("world", (("p", 0), ("q", 1)))
+STARS = read_book("maker half 1\nleft half: | 1\nmaker imp 2\nright imp: 1 | 2\nleft imp: | 1; 2 |\nmaker not 1\n"
+                  "right not: 1 |\nleft not: | 1\nmaker id 1\nright id: | 1\nleft id: 1 |")
+TOLD_NOT = ("imp", "a", ("half", "a"))
+HALVED = ((("half", ("id", "p")),), (("half", "p"),))
+FURTHER = ("tonk", "right", (((), (1, 2)), ((1,), (2,))))
+LET = read_book("maker tonk 2\nright tonk: | 2")
+JOINED = Signed(3, (("either", 1),), (("either", (0, 1), ()), ("either", (2, 0), (((1, 1), (0, 1)),))))
+RECORD = make_record("strike", (TONK, (1, 2)))
+UNFOLDED = ("neither", (("p", 1), ("q", 0)), (("p", 1), ("q", 0)))
 
 # (module, name, arguments, the places of papers: there no lists stand)
 CALLS = (
@@ -115,6 +127,33 @@ CALLS = (
     ("tables", "tables_apart", (MAY, BARE), ()),
     ("tables", "apart_holds", (MAY, BARE, ("may", (1,), (("q",), ("r", ("may", "q"))), 0)), (2,)),
     ("tables", "told_book", (TABLES,), ()), ("tables", "nth_table", (2, 50), ()), ("tables", "table_number", (1, (None, 1)), ()),
+    ("follows", "rule_case", (AND, ("and", "left", (((), (2, 2)), ((1,), ())))), ()),
+    ("follows", "rule_follows", (AND, ("and", "right", (((), (2,)), ((), (1,))))), ()),
+    ("follows", "careful_apart", (AND, Book(AND.makers, ())), ()), ("follows", "plain_apart", (NO,), ()),
+    ("made", "writing_paper", (STARS, "not", TOLD_NOT), ()),
+    ("made", "writing_holds", (STARS, "half", ("not", "a"), ("making", (("half", (0, 0)),), (0,))), (3,)),
+    ("mending", "bad_rows", (TONK,), ()), ("mending", "strike_paper", (TONK, (3, 2)), ()),
+    ("mending", "strike_holds", (TONK, (1, 1), ("struck", (0,), ((1, 0, 1),))), (2,)), ("mending", "dealt_lot", (TONK, ("left",)), ()),
+    ("mending", "least_lots", (TONK,), ()), ("mending", "cheapest_lots", (TONK, (2, 2)), ()),
+    ("mending", "strike_kinds", (TONK, (2, 1)), ()), ("mending", "mixed_lots", (TONK, (0, 1), (1,)), ()),
+    ("mending", "narrowed_book", (TONK, ("right",)), ()), ("mending", "narrow_paper", (TONK, (("p",), ("p", ("tonk", "p", "q")))), ()),
+    ("signrules", "joins_paper", (JOINED,), ()), ("signrules", "added_rules", (JOINED,), ()), ("signrules", "few_rules", (JOINED,), ()),
+    ("signrules", "signed_apart", (JOINED, Signed(3, JOINED.makers, ())), ()),
+    ("checker", "record_holds", (RECORD,), (0,)), ("checker", "make_record", ("follow", (AND, TOLD, ((), (TWO,)))), ()),
+    ("checker", "wrong_records", ((RECORD, 5, RECORD[:2]),), (0,)),
+    ("columns", "shortest_writing", (STARS, "not", ("half", "imp")), ()),
+    ("columns", "shortest_holds", (STARS, "not", ("half", "imp"), ("writing", TOLD_NOT)), (3,)),
+    ("columns", "fewest_rows", (STARS, "not", ("id", "imp")), ()),
+    ("columns", "rows_hold", (STARS, "not", ("id",), (((0,),), ((0,),))), (3,)), ("columns", "least_helpers", (STARS, "not"), ()),
+    ("more", "let_paper", (LET, FURTHER), ()), ("more", "let_together", (LET, (FURTHER, ("tonk", "left", (((2,), ()),)))), ()),
+    ("more", "new_paper", (LET, FURTHER, (("p",), (("tonk", "p", "q"), "p"))), ()),
+    ("more", "new_holds", (LET, FURTHER, (("p",), ("q",)), ("neither", (("p", 1), ("q", 0)))), (3,)),
+    ("more", "fresh_sheet", (LET, ("tonk", "left", (((2,), ()),))), ()), ("more", "built_paper", (LET, FURTHER, (1,)), ()),
+    ("more", "built_holds", (LET, FURTHER, (), ("bars", (None, 0))), (3,)), ("more", "least_joins", (LET, FURTHER), ()),
+    ("unfolded", "unfold_saying", (STARS, "not", TOLD_NOT, ("id", ("not", ("not", "p")))), ()),
+    ("unfolded", "unfold_sheet", (STARS, "id", "a", HALVED), ()), ("unfolded", "like_unfolded", (STARS, "id", "a", HALVED), ()),
+    ("unfolded", "unfold_paper", (STARS, "id", "a", HALVED), ()),
+    ("unfolded", "unfold_holds", (STARS, "id", "a", (("p",), ("q",)), UNFOLDED), (4,)),
 )
 
 INTERFACE = {
@@ -144,6 +183,24 @@ INTERFACE = {
              "rule_sheets",
     "fewest": "single_paper single_holds single_lots kind_breach kind_premises kind_lots premise_count wider_rules "
               "least_book",
+    "follows": "rule_case rule_follows careful_apart plain_apart",
+    "made": "writing_paper writing_holds",
+    "mending": "bad_rows strike_paper strike_holds dealt_lot least_lots cheapest_lots strike_kinds mixed_lots narrowed_book "
+               "narrow_paper",
+    "signrules": "joins_paper added_rules few_rules signed_apart",
+    "checker": "record_holds make_record wrong_records",
+    "columns": "shortest_writing shortest_holds fewest_rows rows_hold least_helpers",
+    "live": "Live",
+    "more": "let_paper let_together new_paper new_holds fresh_sheet built_paper built_holds least_joins",
+    "unfolded": "unfold_saying unfold_sheet like_unfolded unfold_paper unfold_holds",
+    "desk": "Desk",
+}
+METHODS = {
+    Live: {"put_maker": "name places", "drop_maker": "name", "rename_maker": "name new", "put_rule": "rule",
+           "strike_rule": "number", "tell_fact": "sheet", "strike_fact": "number", "ask_sheet": "sheet", "turned_sheets": "",
+           "undo_deed": "", "redo_deed": ""},
+    Desk: {"say": "command"}, Book: {"maker_places": "name", "rules_of": "name side", "__eq__": "other"},
+    Signed: {"__eq__": "other"},
 }
 PARAMETERS = {
     "saying_depth": "saying", "saying_text": "saying", "saying_rank": "saying", "saying_parts": "saying",
@@ -186,6 +243,19 @@ PARAMETERS = {
     "single_paper": "places rows", "single_holds": "places rows value", "single_lots": "places rows",
     "kind_breach": "places rows kind", "kind_premises": "places rows kind", "kind_lots": "places rows kind",
     "premise_count": "places rows", "wider_rules": "places table", "least_book": "book",
+    "rule_case": "book rule", "rule_follows": "book rule", "careful_apart": "one other", "plain_apart": "book",
+    "writing_paper": "book name writing", "writing_holds": "book name writing value", "bad_rows": "book",
+    "strike_paper": "book prices", "strike_holds": "book prices value", "dealt_lot": "book sides", "least_lots": "book",
+    "cheapest_lots": "book prices", "strike_kinds": "book prices", "mixed_lots": "book lot other",
+    "narrowed_book": "book sides", "narrow_paper": "book sheet", "joins_paper": "signed", "added_rules": "signed",
+    "few_rules": "signed", "signed_apart": "signed other", "record_holds": "value", "make_record": "word question",
+    "wrong_records": "values", "shortest_writing": "book name helpers", "shortest_holds": "book name helpers value",
+    "fewest_rows": "book name helpers", "rows_hold": "book name helpers value", "least_helpers": "book name",
+    "let_paper": "book rule", "let_together": "book rules", "new_paper": "book rule sheet",
+    "new_holds": "book rule sheet value", "fresh_sheet": "book rule", "built_paper": "book rule places",
+    "built_holds": "book rule places value", "least_joins": "book rule", "unfold_saying": "book name writing saying",
+    "unfold_sheet": "book name writing sheet", "like_unfolded": "book name writing sheet",
+    "unfold_paper": "book name writing sheet", "unfold_holds": "book name writing sheet value", "Live": "", "Desk": "",
 }
 
 
@@ -207,7 +277,7 @@ class BasicsTest(unittest.TestCase):
 
     def test_every_name_is_called_here(self):
         for module, names in INTERFACE.items():
-            if module != "errors":
+            if module not in ("errors", "live", "desk"):
                 self.assertEqual({name for where, name, args, papers in CALLS if where == module}, set(names.split()))
 
     def test_equal_calls_give_equal_results(self):
@@ -245,7 +315,7 @@ class BasicsTest(unittest.TestCase):
         self.assertEqual((signed.makers, signed.rules), kept)
 
     def test_objects_are_not_iterable(self):
-        for thing in (AND, EMPTY, SIGNED):
+        for thing in (AND, EMPTY, SIGNED, Live(), Desk()):
             for call in (iter, list, tuple, len, sorted):
                 with self.assertRaises(TypeError):
                     call(thing)
@@ -262,12 +332,14 @@ class BasicsTest(unittest.TestCase):
         for module, names in INTERFACE.items():
             for name in names.split():
                 self.assertEqual(called(module, name).__module__, "saymakers." + module)
-        for thing, methods in ((Book, ("maker_places", "rules_of", "__eq__")), (Signed, ("__eq__",))):
-            for method in methods:
+        for thing, methods in METHODS.items():
+            for method, parameters in methods.items():
                 self.assertIn(method, vars(thing))
+                self.assertEqual(list(inspect.signature(vars(thing)[method]).parameters), ["self"] + parameters.split())
 
     def test_parameters_and_defaults(self):
         for module, name, args, papers in CALLS:
+            self.assertIn(name, INTERFACE[module].split())
             parameters = inspect.signature(called(module, name)).parameters
             self.assertEqual(list(parameters), PARAMETERS[name].split(), name)
             for parameter in parameters.values():

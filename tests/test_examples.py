@@ -1,6 +1,8 @@
-"""The document's examples, as far as their modules are there."""
+"""The document's examples, each by itself and all together."""
 
 import doctest
+import pathlib
+import re
 import unittest
 
 EXAMPLES = {
@@ -63,10 +65,22 @@ EXAMPLES = {
     >>> letters_paper(book, ((("may", "p"),), (("may", "p"),)))
     ('half', (('p', 0), (('may', 'p'), 2)))
     """,
+    "chapter 10": """
+    >>> from saymakers.books import read_book
+    >>> from saymakers.more import built_paper, fresh_sheet, least_joins
+    >>> book, rule = read_book("maker m 2\\nright m: | 2"), ("m", "right", [((), (1, 2)), ((1,), (2,))])
+    >>> built_paper(book, rule, ()), least_joins(book, rule)
+    (('bars', (None, 0)), ((1,),))
+    >>> fresh_sheet(book, ("m", "right", [((), (1,))]))
+    (('q',), ('r', ('m', 'q', 'r')))
+    """,
     "chapter 11": """
-    >>> from saymakers.books import Book, book_text
-    >>> rules = [("tonk", "right", [((), (1,)), ((1,), (2,))]), ("tonk", "left", [((2,), ())])]
-    >>> print(book_text(Book([("tonk", 2)], rules)))
+    >>> from saymakers.books import book_text, read_book
+    >>> from saymakers.mending import bad_rows, least_lots, narrowed_book, strike_paper
+    >>> tonk = read_book("maker tonk 2\\nright tonk: | 1\\nleft tonk: 2 |")
+    >>> bad_rows(tonk), least_lots(tonk), strike_paper(tonk, [2, 1])
+    ((('tonk', (1, 0)),), ((0,), (1,)), ('struck', (1,), ((1, 0, 1),)))
+    >>> print(book_text(narrowed_book(tonk, ["left"])))
     maker tonk 2
     left tonk: 2 |
     right tonk: | 1; 1 | 2
@@ -85,7 +99,35 @@ EXAMPLES = {
     >>> middle_count(book, first, third)
     1
     """,
+    "chapter 13": """
+    >>> from saymakers.books import read_book
+    >>> from saymakers.columns import shortest_writing
+    >>> told = "maker imp 2\\nright imp: 1 | 2\\nleft imp: | 1; 2 |\\nmaker half 1\\nleft half: | 1\\n"
+    >>> book = read_book(told + "maker not 1\\nright not: 1 |\\nleft not: | 1")
+    >>> shortest_writing(book, "not", ["half", "imp"])
+    ('writing', ('imp', 'a', ('half', 'a')))
+    """,
+    "chapter 16, live": """
+    >>> from saymakers.live import Live
+    >>> live = Live()
+    >>> live.put_maker("tonk", 2), live.put_rule(("tonk", "right", [((), (1,))]))
+    (None, None)
+    >>> live.ask_sheet((["p"], [("tonk", "p", "q")]))[0], live.ask_sheet((["p"], ["q"]))[0]
+    ('tree', 'world')
+    >>> live.put_rule(("tonk", "left", [((1,), ())])), live.tell_fact((["p"], ["q"])), live.turned_sheets()
+    (None, None, ((('p',), ('q',)),))
+    """,
+    "chapter 16, desk": """
+    >>> from saymakers.desk import Desk
+    >>> desk = Desk()
+    >>> [desk.say(line) for line in ("start", "maker tonk 2", "right tonk: | 1", "asks p | tonk(p, q)")]
+    ['done', 'done', 'done', 'yes']
+    >>> print(desk.say("proof p | tonk(p, q)"))
+    0: p | p by start
+    1: p | tonk(p, q) by rule 0 from 0
+    """,
 }
+DOCUMENT = pathlib.Path(__file__).resolve().parent.parent.parent / "shared" / "DOC.md"
 
 
 class ExamplesTest(unittest.TestCase):
@@ -97,6 +139,17 @@ class ExamplesTest(unittest.TestCase):
                 self.assertEqual(failed, 0)
                 self.assertGreater(tried, 0)
             runner = doctest.DocTestRunner(verbose=False)
+
+    @unittest.skipUnless(DOCUMENT.exists(), "the document is not there")
+    def test_the_document_itself(self):
+        tried = 0
+        for chapter in re.split("(?m)^## ", DOCUMENT.read_text()):
+            runner = doctest.DocTestRunner(verbose=False)
+            shown = []
+            test = doctest.DocTestParser().get_doctest(chapter, {}, chapter[:20], None, 0)
+            self.assertEqual(runner.run(test, out=shown.append).failed, 0, shown)
+            tried += len(test.examples)
+        self.assertGreater(tried, 60)
 
 
 if __name__ == "__main__":
