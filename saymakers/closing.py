@@ -51,15 +51,11 @@ class Closing:
             self._put(columns[0], saying)
         if len(columns) == 2:
             low, high = columns
-            for column in self._at_level(makers):
+            for column in self._levels[makers]:
                 found = (column & high) | (~column & low)
                 if found not in self.sayings:
                     self._put(found, saying + (self.sayings[column],))
         elif len(columns) > 2:
             for many in range(makers + 1):
-                for column in self._at_level(many):
+                for column in self._levels[many]:
                     self._combine(folded(columns, column), makers - many, saying + (self.sayings[column],))
-
-    def _at_level(self, many):
-        """The columns that take so many makers."""
-        return self._levels[many] if many < len(self._levels) else []

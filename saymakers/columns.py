@@ -7,7 +7,7 @@ from saymakers.closing import Closing, maker_count
 from saymakers.court import need_calm
 from saymakers.errors import InvalidMakers, InvalidSize, Refused
 from saymakers.forms import own_saying, parts_of
-from saymakers.kinds import is_name, is_sequence, row_of_places
+from saymakers.kinds import is_sequence, row_of_places
 from saymakers.makings import Columns, maker_letters, maker_saying, makings_of
 from saymakers.wholly import table_gaps
 
@@ -21,7 +21,7 @@ def _need_helpers(book, name, helpers):
     others = [other for other, places in book.makers if other != name]
     found = []
     for at, helper in enumerate(helpers):
-        if not is_name(helper) or helper not in others or helper in found:
+        if helper not in others or helper in found:
             raise InvalidMakers(at)
         found.append(helper)
     return found

@@ -57,9 +57,9 @@ def _first_alike(book, unfolder, sheet):
     parts = [part for part in parts_of(sheet[0] + sheet[1]) if not isinstance(part, str) and part[0] in names]
     numbers = [unfolder.number_of(part) for part in parts]
     for at, part in enumerate(parts):
-        for later in range(at + 1, len(parts)):
-            if part[0] == parts[later][0] and numbers[at] == numbers[later]:
-                return part, parts[later]
+        # What unfolds alike has one maker, as none of the parts is of the one that is written.
+        if numbers[at] in numbers[at + 1:]:
+            return part, parts[numbers.index(numbers[at], at + 1)]
     return None
 
 
@@ -126,9 +126,8 @@ def _are_alike(book, case, value):
     if not isinstance(value, tuple) or len(value) != 2:
         return False
     one, other = [formed_saying(part, False) for part in value]
-    if one is None or other is None or isinstance(one, str) or one == other or one[0] != other[0]:
-        return False
     parts = case.lots[0].sayings
-    if one not in parts or other not in parts or one[0] == case.unfolder.name or not table_gaps(book, one[0]):
+    if one not in parts or other not in parts or isinstance(one, str) or one == other or one[0] != other[0]:
         return False
-    return case.unfolder.number_of(one) == case.unfolder.number_of(other)
+    # The maker that is written is whole, so that it is another one.
+    return bool(table_gaps(book, one[0])) and case.unfolder.number_of(one) == case.unfolder.number_of(other)

@@ -237,6 +237,34 @@ class ShortestTest(Wrong, unittest.TestCase):
         self.assertEqual(shortest_writing(half, "any", ["ite", "not"]), ("open", (0, 0, 0)))
         self.assertIs(shortest_holds(half, "any", ["ite", "not"], ("open", (1, 1, 0))), True)
 
+    def test_just_sixty_four_and_sixty_five(self):
+        # All that "and" makes of six things that are free of each other is 63 columns; noughts and ones are two more.
+        free = [("o" + sign, 0, (None,)) for sign in "abc"]
+        book = told_book(free + [("and", 2, (0, 0, 0, 1)), ("zero", 0, (0,)), ("one", 0, (1,)), ("m", 3, (0, 1) * 4), ("n", 3, (1, 0) * 4)])
+        helpers = ["oa", "ob", "oc", "and"]
+        self.assertEqual(len(shortest_writing(book, "n", helpers)[1]), 63)
+        for more in ("zero", "one"):
+            self.assertEqual(len(shortest_writing(book, "n", helpers + [more])[1]), 64)
+        for name in ("m", "n"):
+            self.wrong(InvalidSize, {"word": "columns"}, shortest_writing, book, name, helpers + ["zero", "one"])
+        self.assertEqual(shortest_writing(book, "m", helpers), ("writing", "c"))
+
+    def test_fewest_makers(self):
+        # Nothing takes three to six makers here, and one thing takes seven.
+        book = told_book([("nor", 3, (1,) + (0,) * 7), ("one", 1, (1, 1)), ("zero", 1, (0, 0)), ("nand", 2, (1, 1, 1, 0)),
+                          ("not", 1, (1, 0)), ("m", 1, (1, 0))])
+        self.assertEqual(maker_count(shortest_writing(book, "one", ["nor"])[1]), 7)
+        self.assertEqual(maker_count(shortest_writing(book, "zero", ["nor"])[1]), 2)
+        # Each maker is counted, letters are not.
+        for saying, right in ((("not", "a"), True), (("nand", "a", "a"), True), (("nor", "a", "a", "a"), True),
+                              (("not", ("not", ("not", "a"))), False), (("nor", "a", "a", ("not", ("not", "a"))), False)):
+            self.assertIs(shortest_holds(book, "m", ["nand", "not", "nor"], ("writing", saying)), right)
+        helpers = ["and", "nand", "or"]
+        for saying, right in ((("and", ("or", "a", "b"), ("nand", "b", "a")), True), (("and", ("or", "a", "b"), ("and", "b", "a")), False),
+                              (("or", ("or", "a", "b"), ("nand", "b", "a")), False), (("and", ("or", "a", "c"), ("nand", "b", "a")), False)):
+            self.assertIs(shortest_holds(GATES, "xor", helpers, ("writing", saying)), right)
+            self.assertIs(right_shortest(GATES, "xor", helpers, ("writing", saying)), right)
+
     def test_open_rows(self):
         six = told_book([("m", 1, (None, None)), ("n", 2, (None,) * 4), ("o", 0, (None,)), ("s", 1, (0, 1)), ("t", 1, (1, None))])
         bare = told_book([("o" + sign, 0, (None,)) for sign in "abcdef"] + [("g", 0, (None,)), ("s", 1, (0, 1))])
@@ -307,7 +335,8 @@ class RowsTest(Wrong, unittest.TestCase):
                 value = (tuple(every[at] for at in numbers), columns)
                 self.assertIs(rows_hold(book, name, helpers, value), truths not in columns)
             found = fewest_rows(book, name, helpers)
-            for value in list(JUNK) + list(changed(found)) + [((), ((),)), ((), ())]:
+            for value in list(JUNK) + list(changed(found)) + [((), ((),)), ((), ()), (((0,), (0,)), ((0, 0),)), (((1,), (0,)), ((1, 0),)),
+                                                               (((0, 0), (0, 0)), ((0, 0), (1, 1)))]:
                 self.assertIs(rows_hold(book, name, helpers, value), right_rows(book, name, helpers, value), value)
 
     def test_edges(self):

@@ -334,6 +334,17 @@ class DeedsTest(Wrong, unittest.TestCase):
         self.assertIs(live.redo_deed(), False)
         self.assertEqual([live.undo_deed() for _ in range(5)], [True] * 4 + [False])
 
+    def test_letters_that_have_a_makers_name(self):
+        live = Live()
+        live.put_maker("m", 1), live.put_maker("n", 1)
+        live.tell_fact((("m", "mm"), (("n", "m"),)))
+        live.rename_maker("m", "o")
+        self.assertEqual(live.facts, ((("m", "mm"), (("n", "m"),)),))
+        live.undo_deed()
+        live.drop_maker("m")
+        self.assertEqual(live.book.makers, (("n", 1),))
+        self.wrong(Refused, {"at": "facts"}, live.drop_maker, "n")
+
     def test_renaming(self):
         live = Live()
         live.put_maker("m", 2), live.put_maker("n", 1)

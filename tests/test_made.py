@@ -224,7 +224,7 @@ class WritingTest(Wrong, unittest.TestCase):
                          ("making", (("any", (0, 0, 0, 0)), ("can", (0, 1)), ("may", (0, 1))), (0, 1)))
 
     def test_any_values(self):
-        cases = [(OPEN, "may", "a"), (OPEN, "may", ("can", "a")), (HALF, "bot", "a"), (OPEN, "id", "a"),
+        cases = [(OPEN, "may", "a"), (OPEN, "may", ("can", "a")), (OPEN, "one", "a"), (HALF, "bot", "a"), (OPEN, "id", "a"),
                  (HALF, "zero", ("half", ("or", "a", ("half", "a")))), (HALF, "not", ("imp", "a", ("bot",)))]
         for book, name, writing in cases:
             paper = writing_paper(book, name, writing)

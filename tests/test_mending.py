@@ -165,7 +165,9 @@ class StrikeTest(Wrong, unittest.TestCase):
         self.assertIs(strike_holds(TONK, [1, 1], ("struck", (0, 1), ((1, 0, 2),))), False)
         self.assertIs(strike_holds(TONK, [1, 1], ("struck", (), ())), False)
         self.assertIs(strike_holds(AND, [1, 1], ("struck", (0,), ())), False)
-        # Shares of one pair are not told twice.
+        # Shares are numbers from 1 on, and those of one pair are not told twice.
+        self.assertIs(strike_holds(TWICE, [1] * 4, ("struck", (0, 2), ((2, 0, 0), (2, 1, 1), (3, 0, 1)))), False)
+        self.assertIs(strike_holds(TWICE, [1] * 4, ("struck", (0, 2), ((2, 0, 1), (2, 1, 1)))), False)
         self.assertIs(strike_holds(TONK, [2, 2], ("struck", (0,), ((1, 0, 1), (1, 0, 1)))), False)
         self.assertIs(strike_holds(TWICE, [1] * 4, ("struck", (0, 2), ((2, 1, 1), (3, 0, 1)))), True)
         self.assertIs(strike_holds(TWICE, [1] * 4, ("struck", (0, 2), ((3, 0, 1), (2, 1, 1)))), False)
@@ -189,6 +191,21 @@ class StrikeTest(Wrong, unittest.TestCase):
             self.assertIs(strike_holds(book, prices, paper), True)
             self.assertTrue(calm_by_tables(without(book, paper[1])))
             self.assertEqual(sum(each[2] for each in paper[2]), costs(paper[1], prices))
+
+    def test_long_ways_of_shares(self):
+        # Rules awake in two of eight rows each, in a row one behind the other: what is dealt must be dealt anew often.
+        rng = random.Random(394)
+        every = rows(3)
+        for _ in range(60):
+            there = rng.sample(every, 8)
+            rules = [("m", SIDES[at % 2], [(tuple(k for k, truth in enumerate(row, 1) if truth), tuple(
+                k for k, truth in enumerate(row, 1) if not truth)) for row in every if row not in there[at:at + 2]]) for at in range(8)]
+            book = Book([("m", 3)], rng.sample(rules, rng.choice((7, 8))))
+            prices = [rng.choice((1, 1, 2, rng.randint(1, 99))) for _ in book.rules]
+            paper = strike_paper(book, prices)
+            self.assertIs(strike_holds(book, prices, paper), True)
+            self.assertEqual(costs(paper[1], prices), min(costs(lot, prices) for lot in mending(book)))
+            self.assertTrue(right_strike(book, prices, paper))
 
     def test_wrong_prices(self):
         for prices in (None, 5, "11", [], [1], [1, 1, 1], [0, 1], [1, 100], [1, -1], [1, True], [1, "1"], [1, None],

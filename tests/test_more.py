@@ -419,7 +419,7 @@ class BuiltTest(Wrong, unittest.TestCase):
             paper = built_paper(book, rule, lot)
             rule = rule[0], rule[1], tuple(rule[2])
             for value in list(JUNK) + list(changed(paper))[:200] + [("bars", row) for row in itertools.product(
-                    (0, 1, None), repeat=len(whole_of(book, rule[0])) - 1)] + [("bars", (True, 0)), ("bars", [0, 0])]:
+                    (0, 1, None), repeat=len(whole_of(book, rule[0])) - 1)] + [("bars", (True, 0)), ("bars", [0, 0]), ("bars", (2, 0)), ("bars", (2, 2)), ("bars", (0, 2)), ("bars", (-1, 0))]:
                 self.assertIs(built_holds(book, rule, lot, value), right_built(book, rule, lot, value), value)
 
     def test_joins_on_other_letters(self):

@@ -285,6 +285,31 @@ class PapersTest(Wrong, unittest.TestCase):
                      ("p", "q"), (TWO, OWT), None, 5, ((), ()), (EMPTY, EMPTY)):
             self.assertIs(unfold_holds(DNA, "dna", BACK, sheet, paper[:3] + (pair,)), False)
 
+    def test_any_two_parts_of_one_open_maker(self):
+        zero = read_book("maker half 1\nleft half: | 1\nmaker top 0\nright top:\nmaker zero 0\nleft zero:\nmaker and 2\n"
+                         "right and: | 1; | 2\nleft and: 1 2 |")
+        top = ("half", ("top",))
+        deep = ("dna", TWO, "pq")
+        cases = (
+            # Sayings of whole makers that unfold alike, and of the maker itself.
+            (DNA, "dna", BACK, ((("may", TWO), ("no", TWO), ("no", OWT)), (("may", OWT),)), ((("no", TWO), ("no", OWT)), (TWO, OWT))),
+            (DNA, "dna", BACK, sheet_of([("may", deep), ("may", ("dna", OWT, "pq"))], [("may", ("and", "pq", OWT)), "p"]),
+             ((("may", deep), ("may", ("and", "pq", TWO))), (("may", ("and", "pq", TWO)), ("may", deep)), ("p", "pq"), ("pq", "p"),
+              (deep, ("dna", OWT, "pq")), (("may", "p"), ("may", "pq")))),
+            # An open maker's saying and one of the maker that is written by it.
+            (zero, "zero", top, ((("half", ("and", ("zero",), "p")),), (("half", ("and", top, "p")),)), (
+                (("zero",), top), (top, ("zero",)), (("and", ("zero",), "p"), ("and", top, "p")))))
+        for book, name, writing, sheet, wrong in cases:
+            paper = unfold_paper(book, name, writing, sheet)
+            self.assertEqual(paper[0], "unfolded")
+            every = closed(sheet[0] + sheet[1])
+            for pair in [(one, other) for one in every for other in every] + list(wrong):
+                right = right_paper(book, name, writing, sheet, paper[:3] + (pair,))
+                self.assertIs(unfold_holds(book, name, writing, sheet, paper[:3] + (pair,)), right, pair)
+                self.assertFalse(pair in wrong and right)
+            for pair in (paper[3] + paper[3][:1], paper[3][:1], "pq", list(paper[3])):
+                self.assertIs(unfold_holds(book, name, writing, sheet, paper[:3] + (pair,)), False)
+
     def test_any_proofs_and_worlds(self):
         sheet = ((TWO,), (OWT,))
         both = unfold_paper(DNA, "dna", BACK, sheet)
