@@ -9,7 +9,7 @@ from saymakers.kinds import SIDES, is_number
 from saymakers.needs import need_own_sheet
 from saymakers.premises import all_hold
 from saymakers.proofs import proof_holds
-from saymakers.prover import lot_bench, open_premises, sheet_proof
+from saymakers.prover import lot_bench, open_premises, proof_or_world
 from saymakers.worlds import breaks_sheet
 
 _MOST_SAYINGS = 14
@@ -32,10 +32,8 @@ def sheet_paper(book, sheet):
     whole, lot = _need_judged(book, sheet, _MOST_SAYINGS)
     if not is_calm(book):
         return _uneven_paper(book, whole)
-    worlds = lot.worlds(lot.bits_of(whole[0]), lot.bits_of(whole[1]))
-    if worlds:
-        return ("world", lot.world_pairs(worlds[0]))
-    return ("proof", sheet_proof(lot, whole))
+    proof, world = proof_or_world(lot, whole)
+    return ("proof", proof) if world is None else ("world", world)
 
 
 def _barring_truths(book, sheet):

@@ -40,6 +40,13 @@ def lot_of(values):
     return tuple(sorted(set(values)))
 
 
+def least_of(lots):
+    """Those of the lots (tuples) within which no other one lies, ascending."""
+    every = lot_of(lots)
+    return tuple([lot for lot in every if not any([
+        other != lot and all([each in lot for each in other]) for other in every])])
+
+
 def rows_of(places, signs=2):
     """All rows of so many places, ascending."""
     rows = [()]

@@ -5,10 +5,10 @@ from saymakers.boxes import barring_premise
 from saymakers.closed import ClosedLot
 from saymakers.court import bad_pairs, is_calm
 from saymakers.errors import InvalidLot, InvalidSize
-from saymakers.kinds import SIDES, is_number, is_number_below, is_sequence, lot_of, rows_of
+from saymakers.kinds import SIDES, is_number, is_number_below, is_sequence, least_of, lot_of, rows_of
 from saymakers.needs import need_own_sheet
 from saymakers.premises import all_hold
-from saymakers.prover import sheet_proof
+from saymakers.prover import proof_or_world
 from saymakers.shares import dealt_shares
 
 _LEAST_PRICE = 1
@@ -118,13 +118,7 @@ def _dealings(rows):
 
 def _least_lots(book):
     """All lots that mend while none of their rules can be left out, ascending."""
-    lots = lot_of([_dealt(book, dealing) for dealing in _dealings(_need_few_rows(book, _MOST_ROWS))])
-    return tuple([lot for lot in lots if not any([_is_less(other, lot) for other in lots])])
-
-
-def _is_less(lot, other):
-    """Whether the one lot is another than the other and lies within it."""
-    return lot != other and all([number in other for number in lot])
+    return least_of([_dealt(book, dealing) for dealing in _dealings(_need_few_rows(book, _MOST_ROWS))])
 
 
 def least_lots(book):
@@ -185,8 +179,8 @@ def narrow_paper(book, sheet):
     proofs = []
     for dealing in _dealings(rows):
         lot = ClosedLot(_narrowed(book, dealing), whole[0] + whole[1])
-        worlds = lot.worlds(lot.bits_of(whole[0]), lot.bits_of(whole[1]))
-        if worlds:
-            return ("some", tuple([side for row, side in dealing]), lot.world_pairs(worlds[0]))
-        proofs.append(sheet_proof(lot, whole))
+        proof, world = proof_or_world(lot, whole)
+        if proof is None:
+            return ("some", tuple([side for row, side in dealing]), world)
+        proofs.append(proof)
     return ("all", tuple(proofs))

@@ -6,12 +6,12 @@ from saymakers.closed import ClosedLot
 from saymakers.court import need_calm
 from saymakers.errors import InvalidLot, InvalidRules, Refused
 from saymakers.forms import ordered_lot, parts_of
-from saymakers.kinds import PLACE_LETTERS, is_number, is_number_below, is_sequence
+from saymakers.kinds import PLACE_LETTERS, is_number, is_number_below, is_sequence, least_of
 from saymakers.needs import need_own_sheet
 from saymakers.premises import all_hold, waking_rows
 from saymakers.proofreader import listed_parts
 from saymakers.proofs import proof_holds
-from saymakers.prover import sheet_proof
+from saymakers.prover import proof_or_world
 from saymakers.rules import formed_rule
 from saymakers.wholly import table_gaps
 from saymakers.worlds import breaks_sheet
@@ -76,22 +76,15 @@ def _need_let(book, rule):
     return put_rules(book, (rule,))
 
 
-def _proof_or_world(book, sheet):
-    """(a proof of the sheet without joins, None), or (None, a world of its parts that does not keep it)."""
-    lot = ClosedLot(book, sheet[0] + sheet[1])
-    worlds = lot.worlds(lot.bits_of(sheet[0]), lot.bits_of(sheet[1]))
-    return (None, lot.world_pairs(worlds[0])) if worlds else (sheet_proof(lot, sheet), None)
-
-
 def new_paper(book, rule, sheet):
     """Whether the sheet has a proof in the book, in the greater one alone, or in neither."""
     found = _need_further(need_book(book), rule)
     whole = need_own_sheet(book, sheet)
     greater = _need_let(book, found)
-    proof, world = _proof_or_world(book, whole)
+    proof, world = proof_or_world(ClosedLot(book, whole[0] + whole[1]), whole)
     if world is None:
         return ("elder", proof)
-    more_proof, more_world = _proof_or_world(greater, whole)
+    more_proof, more_world = proof_or_world(ClosedLot(greater, whole[0] + whole[1]), whole)
     return ("new", more_proof, world) if more_world is None else ("neither", more_world)
 
 
@@ -191,10 +184,4 @@ def least_joins(book, rule):
     lots = [()]
     for place in range(1, book.maker_places(found[0]) + 1):
         lots = lots + [lot + (place,) for lot in lots]
-    built = [lot for lot in sorted(lots) if Builder(book, found, lot).found_proof() is not None]
-    return tuple([lot for lot in built if not any([_is_less(other, lot) for other in built])])
-
-
-def _is_less(lot, other):
-    """Whether the one lot is another than the other and lies within it."""
-    return lot != other and all([place in other for place in lot])
+    return least_of([lot for lot in lots if Builder(book, found, lot).found_proof() is not None])

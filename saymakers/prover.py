@@ -83,3 +83,10 @@ def sheet_proof(lot, sheet):
     prover = Prover(lot, lot.every)
     left, right = lot.sheet_bits(sheet)
     return prover.bench.proof_with_end(prover.proved(left, right), left, right)
+
+
+def proof_or_world(lot, sheet):
+    """(a proof of the sheet without joins, None), or (None, the lot's first world that does not keep it)."""
+    left, right = lot.sheet_bits(sheet)
+    worlds = lot.worlds(left, right)
+    return (None, lot.world_pairs(worlds[0])) if worlds else (sheet_proof(lot, sheet), None)

@@ -8,7 +8,7 @@ from saymakers.forms import formed_saying, ordered_lot, parts_of
 from saymakers.makings import maker_letters, maker_saying, need_writing
 from saymakers.needs import need_own_saying, need_own_sheet
 from saymakers.proofs import proof_holds
-from saymakers.prover import sheet_proof
+from saymakers.prover import proof_or_world
 from saymakers.unfolder import Unfolder
 from saymakers.wholly import table_gaps
 from saymakers.worlds import breaks_sheet
@@ -94,16 +94,13 @@ class Unfolding:
 def unfold_paper(book, name, writing, sheet):
     """Proofs of the sheet and of the unfolded one, worlds that break them, or one of each."""
     case = Unfolding(book, name, writing, sheet)
-    papers = []
-    broken = []
-    for sheet_told, lot in zip(case.sheets, case.lots):
-        left, right = lot.sheet_bits(sheet_told)
-        worlds = lot.worlds(left, right)
-        broken.append(bool(worlds))
-        papers.append(lot.world_pairs(worlds[0]) if worlds else sheet_proof(lot, sheet_told))
-    if broken == [True, False]:
-        return ("unfolded", papers[1], papers[0], _first_alike(book, case.unfolder, case.sheets[0]))
-    return ("neither" if broken[0] else "both", papers[0], papers[1])
+    proof, world = proof_or_world(case.lots[0], case.sheets[0])
+    other_proof, other_world = proof_or_world(case.lots[1], case.sheets[1])
+    if world is None:
+        return ("both", proof, other_proof)
+    if other_world is not None:
+        return ("neither", world, other_world)
+    return ("unfolded", other_proof, world, _first_alike(book, case.unfolder, case.sheets[0]))
 
 
 def unfold_holds(book, name, writing, sheet, value):

@@ -162,6 +162,8 @@ class LanguageTest(unittest.TestCase):
                 self.assertFalse(node.func.attr in METHODS and node.func.attr in own, (name, node.lineno))
             for each in node.args:
                 self.assertNotIsInstance(each, ast.Starred, (name, node.lineno))
+            if isinstance(node.func, ast.Name) and node.func.id in LIBRARY["itertools"]:
+                self.assertEqual(node.keywords, [], (name, node.lineno))
             if isinstance(node.func, ast.Name) and node.func.id in BUILTINS:
                 self.assertLessEqual({each.arg for each in node.keywords}, {"key", "start"}, (name, node.lineno))
 
