@@ -314,6 +314,23 @@ class BasicsTest(unittest.TestCase):
         self.assertEqual((book.makers, book.rules), (LOGIC.makers, LOGIC.rules))
         self.assertEqual((signed.makers, signed.rules), kept)
 
+    def test_lists_changed_behind_a_call_change_nothing(self):
+        def spoil(value):
+            """Changes all lists within the value."""
+            for each in value:
+                if isinstance(each, list):
+                    spoil(each)
+            if isinstance(value, list):
+                value.append("odd")
+                value.reverse()
+        for module, name, args, papers in CALLS:
+            turned = [arg if at in papers else listed(arg) for at, arg in enumerate(args)]
+            result = called(module, name)(*turned)
+            kept = copy.deepcopy(result)
+            spoil(turned)
+            self.assertTrue(is_same(result, kept) or result == kept, name)
+            self.assertTrue(is_same(result, called(module, name)(*args)) or result == kept, name)
+
     def test_objects_are_not_iterable(self):
         for thing in (AND, EMPTY, SIGNED, Live(), Desk()):
             for call in (iter, list, tuple, len, sorted):
